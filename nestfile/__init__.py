@@ -1,0 +1,1 @@
+"""Binary property lists, read as webs of shared objects."""

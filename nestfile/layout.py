@@ -1,0 +1,79 @@
+"""The frame of a file: its header, its trailer and its offset table."""
+
+from nestfile.errors import NoBytes, Torn
+from nestfile.values import GREATEST_BYTE, is_between
+
+HEADER = (98, 112, 108, 105, 115, 116, 48, 48)
+TRAILER_LENGTH = 32
+SHORTEST_FILE = 42
+MOST_OBJECTS = 10000
+
+
+class Layout:
+    """The bytes of a file, and what its trailer says of them."""
+
+    def __init__(self, data):
+        trailer = len(data) - TRAILER_LENGTH
+        self.data = tuple(data)
+        self.trailer = trailer
+        self.offset_width = data[trailer + 6]
+        self.reference_width = data[trailer + 7]
+        self.count = number_at(data, trailer + 8, 8)
+        self.root = number_at(data, trailer + 16, 8)
+        self.table = number_at(data, trailer + 24, 8)
+
+
+def number_at(data, place, width):
+    """Read a number of several bytes, the most significant one first."""
+    number = 0
+    for octet in data[place:place + width]:
+        number = number * 256 + octet
+    return number
+
+
+def check_bytes(data):
+    for place, octet in enumerate(data):
+        if not is_between(octet, 0, GREATEST_BYTE):
+            raise NoBytes(place)
+
+
+def _check_trailer(layout):
+    begin = layout.trailer
+    for place in range(begin, begin + 6):
+        if layout.data[place] != 0:
+            raise Torn("unused", place)
+    if not 1 <= layout.offset_width <= 8:
+        raise Torn("offsets", begin + 6)
+    if not 1 <= layout.reference_width <= 8:
+        raise Torn("references", begin + 7)
+    if not 1 <= layout.count <= MOST_OBJECTS:
+        raise Torn("count", begin + 8)
+    if layout.root >= layout.count:
+        raise Torn("top", begin + 16)
+    end = layout.table + layout.count * layout.offset_width
+    if layout.table <= len(HEADER) or end != begin:
+        raise Torn("table", begin + 24)
+
+
+def read_layout(data):
+    """Check the header and the trailer of a file, which is made of bytes."""
+    if len(data) < SHORTEST_FILE:
+        raise Torn("short", len(data))
+    for place, octet in enumerate(HEADER):
+        if data[place] != octet:
+            raise Torn("header", place)
+    layout = Layout(data)
+    _check_trailer(layout)
+    return layout
+
+
+def read_places(layout):
+    """List the places of all objects, as the offset table tells them."""
+    places = []
+    for number in range(layout.count):
+        entry = layout.table + number * layout.offset_width
+        place = number_at(layout.data, entry, layout.offset_width)
+        if place < len(HEADER) or place >= layout.table:
+            raise Torn("offset", entry)
+        places.append(place)
+    return places

@@ -1,0 +1,107 @@
+"""Files of up to 50,000 bytes are read in seconds at most, whatever they hold."""
+
+import time
+import unittest
+
+from making import NONE, array, built, chain, data, dictionary, doubling, framed, number, text
+from nestfile.errors import Torn
+from nestfile.files import entries, find, gaps, octets, read, unused
+from nestfile.values import check
+
+SECONDS = 5
+
+
+class TestSpeed(unittest.TestCase):
+    def setUp(self):
+        self.begin = time.perf_counter()
+
+    def tearDown(self):
+        self.assertLess(time.perf_counter() - self.begin, SECONDS)
+
+    def torn(self, file, word):
+        self.assertLessEqual(len(file), 50_000)
+        with self.assertRaises(Torn) as caught:
+            read(file)
+        self.assertEqual(caught.exception.word, word)
+
+    def sound(self, file):
+        self.assertLessEqual(len(file), 50_000)
+        nest = read(file)
+        self.assertTrue(nest == read(file))
+        self.assertEqual(octets(nest), file)
+        self.assertEqual(len(entries(nest)), len(nest))
+        unused(nest)
+        gaps(nest)
+        return nest
+
+    def test_objects_that_overlap_a_thousandfold(self):
+        # Everywhere begins an object with thousands of bytes or references.
+        for marker, width in ((0xAF, 1), (0x5F, 1), (0x4F, 1), (0x6F, 1), (0xDF, 1), (0xAF, 8), (0xDF, 8)):
+            body = ([marker, 0x11] + number(12_000 // width // 2, 2)) * 7_400
+            places = [8 + 4 * at for at in range(4_000)]
+            with self.subTest(marker=marker, width=width):
+                file = framed(body, places, reference_width=width)
+                word = "overlap" if width == 1 else "reference"
+                self.torn(file, word)
+
+    def test_ten_thousand_objects_at_one_place(self):
+        for marker in (0xAF, 0x5F, 0x4F, 0xDF):
+            body = [marker, 0x11] + number(14_000, 2) + [0x10] * 29_000
+            self.torn(framed(body[:29_000], [8] * 10_000), "overlap")
+
+    def test_one_long_object(self):
+        self.sound(built([data([1] * 49_900)]))
+        self.sound(built([text("x" * 49_900)]))
+        self.sound(built([NONE, array([0] * 49_900)]))
+        self.torn(built([array([0] * 49_900)]), "ring")
+        self.torn(built([text("a"), dictionary([(0, 0)] * 24_900)]), "twice")
+
+    def test_many_keys(self):
+        keys = [text("k" + str(at)) for at in range(3_700)]
+        pairs = [(at, at) for at in reversed(range(3_700))]
+        file = built(keys + [dictionary(pairs, 2)], reference_width=2)
+        self.assertEqual(find(self.sound(file), ("k77",)), 77)
+
+    def test_long_keys_in_many_dictionaries(self):
+        objects = [text("x" * 12_000 + last) for last in "ab"]
+        objects += [dictionary([(0, 1), (1, 0)]) for _ in range(2_000)]
+        objects += [dictionary([(1, 1), (0, 0)]) for _ in range(1_000)]
+        self.sound(built(objects))
+
+    def test_chains_and_doublings(self):
+        self.sound(chain(9_990))
+        self.sound(doubling(6_900))
+
+    def test_rings(self):
+        many = 6_000
+        # One ring of all lists, which leads to each of them in thousands of ways.
+        objects = [array([at + 1, 0], 2) for at in range(many)] + [NONE]
+        self.torn(built(objects, reference_width=2), "ring")
+        # Thousands of lists that lead to a ring but are in none.
+        objects = [array([many], 2) for _ in range(many)] + [array([many], 2)]
+        self.torn(built(objects, reference_width=2), "ring")
+        # Thousands of rings of two.
+        objects = [array([at ^ 1], 2) for at in range(many)]
+        self.torn(built(objects, reference_width=2), "ring")
+        # Thousands of lists that stand between two rings.
+        objects = [array([at + 1], 2) for at in range(many)] + [array([many + 1], 2), array([many], 2)]
+        objects += [array([many + 3, 0], 2), array([many + 2], 2)]
+        self.torn(built(objects, reference_width=2), "ring")
+
+    def test_many_references(self):
+        # Each list holds all objects that come before it, or the last one many times.
+        objects = [NONE] + [array(range(at)) for at in range(1, 256)]
+        self.sound(built(objects))
+        objects = [NONE] + [array([at] * 180) for at in range(250)]
+        self.sound(built(objects))
+
+    def test_values(self):
+        deep = 0
+        for _ in range(99):
+            deep = [deep]
+        check([deep] * 190)
+        check(["x" * 1_000] * 500)
+
+
+if __name__ == "__main__":
+    unittest.main()
