@@ -25,8 +25,12 @@ def is_plain_number(number):
     return 32 <= number <= 126 and number != PERCENT
 
 
-def is_plain_text(text):
-    return all([is_plain_number(ord(sign)) for sign in text])
+def _are_plain(texts):
+    """Tell whether all these strings are plain. They are joined, and looked at all at once."""
+    # A long string may stand at thousands of places; here it is taken once.
+    text = "".join(list({one: True for one in texts}))
+    # 37 is the percent sign, the one sign that can be printed and is not plain.
+    return text.isascii() and text.isprintable() and text.translate({37: None}) == text
 
 
 def _are_numbers(things, highest):
@@ -93,7 +97,7 @@ class Date:
         return isinstance(other, Date) and self.octets == other.octets
 
 
-def _kind(part):
+def kind_of(part):
     """Name the kind of a part, or return None if it is of no kind."""
     if part is None:
         return "none"
@@ -125,19 +129,7 @@ def _own_kind(part):
     return None
 
 
-def _is_sound(part):
-    """Tell whether a part is as it must be, whatever its items or members are."""
-    kind = _kind(part)
-    if kind == "integer":
-        return LOWEST <= part <= HIGHEST
-    if kind == "string":
-        return is_plain_text(part)
-    if kind == "dictionary":
-        return all([isinstance(key, str) and is_plain_text(key) for key in part])
-    return kind is not None
-
-
-def _steps(part):
+def steps_of(part):
     """List the steps to the items or members of a part, in the order of paths."""
     if isinstance(part, list):
         return list(range(len(part)))
@@ -146,47 +138,103 @@ def _steps(part):
     return []
 
 
-def _path(rows, row):
-    """Follow the rows of `_rows` upwards and return the path that leads to the last one."""
+def _members(parts):
+    """List what stands in all these parts, or return None if one of them is wrong; none is None or a number."""
+    texts = [part for part in parts if isinstance(part, str)]
+    rest = [part for part in parts if not isinstance(part, str)]
+    lists = [part for part in rest if isinstance(part, list)]
+    rest = [part for part in rest if not isinstance(part, list)]
+    tables = [part for part in rest if isinstance(part, dict)]
+    rest = [part for part in rest if not isinstance(part, (dict, Wide, Data, Uid, Real, Date))]
+    keys = [key for table in tables for key in table]
+    if rest or not all([isinstance(key, str) for key in keys]) or not _are_plain(texts + keys):
+        return None
+    return [item for items in lists for item in items] + [item for table in tables for item in table.values()]
+
+
+def _opened(parts):
+    """List the items and members of all these parts in any order, or return None if one of the parts is wrong.
+
+    Values of thousands of parts are checked very often: to look at many parts
+    at once takes a fraction of the time of looking at each alone.
+    """
+    numbers = [part for part in parts if isinstance(part, int)]
+    if min(numbers, default=0) < LOWEST or max(numbers, default=0) > HIGHEST:
+        return None
+    if len(numbers) == len(parts):
+        return []
+    return _members([part for part in parts if part is not None and not isinstance(part, int)])
+
+
+def _first_wrong(parts):
+    """Return the place of the first wrong one of these parts, or their number if none is wrong."""
+    if _opened(parts) is not None:
+        return len(parts)
+    low = 0
+    high = len(parts)
+    while high - low > 1:
+        middle = (low + high) // 2
+        if _opened(parts[low:middle]) is None:
+            high = middle
+        else:
+            low = middle
+    return low
+
+
+def _path(levels, place):
+    """Return the path of the part with this place in the last level."""
     steps = []
-    while row[1] is not None:
-        steps.append(row[2])
-        row = rows[row[1]]
+    for level in reversed(levels[:-1]):
+        for at, part in enumerate(level):
+            held = steps_of(part)
+            if place < len(held):
+                steps.append(held[place])
+                place = at
+                break
+            place -= len(held)
     return tuple(reversed(steps))
 
 
-def _rows(value):
-    """List the parts in the order of paths, as (part, row of what holds it, step, depth)."""
-    rows = []
-    waiting = [(value, None, None, 0)]
-    while waiting:
-        row = waiting.pop()
-        part = row[0]
-        if not _is_sound(part):
-            raise NoValue(_path(rows, row))
-        at = len(rows)
-        rows.append(row)
-        for step in reversed(_steps(part)):
-            waiting.append((part[step], at, step, row[3] + 1))
-    return rows
+def _wrong_path(value):
+    """Return the path of the first wrong part; there is one."""
+    levels = []
+    level = [value]
+    found = (0, 0)
+    while level:
+        levels.append(level)
+        place = _first_wrong(level)
+        if place < len(level):
+            # What stands deeper and still comes first is held by what stands before this part.
+            found = (len(levels), place)
+        level = [part[step] for part in level[:place] for step in steps_of(part)]
+    many, place = found
+    return _path(levels[:many], place)
 
 
 def check(value):
     """Raise NoValue or Large unless this is a value within the limits."""
-    rows = _rows(value)
-    if max([row[3] for row in rows]) > MOST_DEPTH:
+    level = [value]
+    depth = -1
+    many = 0
+    while level:
+        depth += 1
+        many += len(level)
+        level = _opened(level)
+    if level is None:
+        raise NoValue(_wrong_path(value))
+    if depth > MOST_DEPTH:
         raise Large("depth")
-    if len(rows) > MOST_PARTS:
+    if many > MOST_PARTS:
         raise Large("parts")
 
 
 def _agree(left, right):
     """Tell whether two parts are alike, if their items or members are."""
-    kind = _kind(left)
-    if kind != _kind(right):
+    kind = kind_of(left)
+    if kind != kind_of(right):
         return False
     if kind in ("list", "dictionary"):
-        return _steps(left) == _steps(right)
+        return steps_of(left) == steps_of(right)
     return left == right
 
 
@@ -199,5 +247,5 @@ def alike(one, other):
         left, right = waiting.pop()
         if not _agree(left, right):
             return False
-        waiting.extend([(left[step], right[step]) for step in _steps(left)])
+        waiting.extend([(left[step], right[step]) for step in steps_of(left)])
     return True

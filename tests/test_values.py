@@ -198,6 +198,75 @@ class TestCheck(unittest.TestCase):
         self.large([[0] * 30_000, nested(100)], "depth")
         self.large([nested(100), [0] * 30_000], "depth")
 
+    def test_values_near_the_limits_of_three_forms(self):
+        for many in (19_999, 20_000, 20_001):
+            members = {"k" + str(at): None for at in range(many - 1)}
+            items = [0] * (many - 1)
+            rows = [[0] * 98] * 201 + [0] * (many - 19_900)
+            for value in (members, items, rows):
+                before = repr(value)
+                if many <= 20_000:
+                    self.assertIsNone(check(value))
+                else:
+                    self.large(value, "parts")
+                self.assertEqual(repr(value), before)
+            for wrong in (1.5, (), "%", 2 ** 64, {1: 1}, [{"a": [None, b""]}]):
+                path = (0, "a", 1) if isinstance(wrong, list) else ()
+                self.refuses(members | {"k9999": wrong, "z": 1.5}, ("k9999",) + path)
+                self.refuses({"%": 0} | members | {"k9999": wrong}, ())
+                for at in (0, 1, 9_999, many - 2):
+                    self.refuses(items[:at] + [wrong] + items[at + 1:] + [1.5], (at,) + path)
+                    self.refuses(items[:at] + [[wrong]] + items[at + 1:] + [1.5], (at, 0) + path)
+                for at in (0, 100, 200):
+                    changed = rows[:at] + [[0] * 97 + [wrong, 1.5]] + rows[at + 1:]
+                    self.refuses(changed, (at, 97) + path)
+                    self.refuses(changed + [1.5], (at, 97) + path)
+                    self.refuses(changed[:at] + [1.5] + changed[at:], (at,))
+            self.large(items[1:] + [nested(100)], "depth")
+            self.refuses(items[1:] + [nested(101, 1.5)], (many - 2,) + self.steps(101))
+
+    def test_the_first_wrong_part_at_any_depths(self):
+        # Each deeper one stands before all that are less deep.
+        value = 1.5
+        for at in range(100):
+            value = [0, value, 2.5] if at % 2 else {"b": value, "c": 2.5, "a": [[]]}
+            self.refuses(value, tuple(1 if up % 2 else "b" for up in reversed(range(at + 1))))
+        # And here behind them.
+        value = 1.5
+        for _ in range(100):
+            value = [[[]], 2.5, value]
+            self.refuses(value, (1,))
+
+    def test_arguments_that_are_like_values(self):
+        class Text(str):
+            pass
+
+        class Number(int):
+            pass
+
+        class Row(list):
+            pass
+
+        class Table(dict):
+            pass
+
+        for value in (Text("a"), Number(5), Row([1]), Table({Text("a"): Row()})):
+            self.assertIsNone(check([value, value]))
+        self.refuses([0, Text("%")], (1,))
+        self.refuses([0, Number(2 ** 64)], (1,))
+        self.refuses([0, Row([1, 1.5])], (1, 1))
+        self.refuses([0, Table({"b": 1.5, Text("a"): ()})], (1, "a"))
+
+    def test_all_characters(self):
+        for at in list(range(300)) + [8364, 0xD800, 0xFF21, 0x1F600]:
+            plain = 32 <= at <= 126 and at != 37
+            for value, path in ((chr(at), ()), ({chr(at): 0}, ()), (["a" + chr(at) + "b"], (0,)),
+                                ({"k": chr(at)}, ("k",))):
+                if plain:
+                    self.assertIsNone(check(value))
+                else:
+                    self.refuses(value, path)
+
     def steps(self, depth):
         """The steps to the leaf of what `nested` makes."""
         return tuple(0 if at % 2 else "k" for at in reversed(range(depth)))
