@@ -1,9 +1,10 @@
 """Files that were read, and what can be asked of them."""
 
 from nestfile.errors import NoPart
-from nestfile.layout import HEADER, check_bytes, read_layout
+from nestfile.layout import HEADER, TOP_PLACE, Layout, check_bytes, number_octets, read_layout
 from nestfile.objects import read_nodes
-from nestfile.shapes import check_rings, leaves_first, reached, shape_of
+from nestfile.rows import shape_of
+from nestfile.shapes import Web, check_rings, leaves_first, reached
 from nestfile.values import is_integer
 
 
@@ -24,10 +25,12 @@ class Entry:
 class Nest:
     """A file that was read; `read` makes it. Equal shapes mean equal values."""
 
-    def __init__(self, layout, nodes, shape):
+    def __init__(self, layout, nodes, web):
         self.layout = layout
         self.nodes = tuple(nodes)
-        self.shape = tuple(shape)
+        self.web = web
+        self.top_row = web.owners[layout.root]
+        self.shape = shape_of(web.rows, self.top_row)
 
     def __len__(self):
         return len(self.nodes)
@@ -66,7 +69,16 @@ def read(data):
     nodes = read_nodes(layout)
     order = leaves_first(nodes)
     check_rings(nodes, order)
-    return Nest(layout, nodes, shape_of(nodes, order, layout.root))
+    return Nest(layout, nodes, Web(nodes, order))
+
+
+def with_top(nest, number):
+    """Return the nest of the same file with another top object."""
+    data = list(nest.layout.data)
+    place = nest.layout.trailer + TOP_PLACE
+    data[place:place + 8] = number_octets(number, 8)
+    # Whichever object is the top one, a file without faults has none.
+    return Nest(Layout(data), nest.nodes, nest.web)
 
 
 def octets(nest):

@@ -5,6 +5,8 @@ from nestfile.values import GREATEST_BYTE, is_between
 
 HEADER = (98, 112, 108, 105, 115, 116, 48, 48)
 TRAILER_LENGTH = 32
+# Where in the trailer the number of the top object stands.
+TOP_PLACE = 16
 SHORTEST_FILE = 42
 MOST_OBJECTS = 10000
 
@@ -19,7 +21,7 @@ class Layout:
         self.offset_width = data[trailer + 6]
         self.reference_width = data[trailer + 7]
         self.count = number_at(data, trailer + 8, 8)
-        self.root = number_at(data, trailer + 16, 8)
+        self.root = number_at(data, trailer + TOP_PLACE, 8)
         self.table = number_at(data, trailer + 24, 8)
 
 
@@ -29,6 +31,16 @@ def number_at(data, place, width):
     for octet in data[place:place + width]:
         number = number * 256 + octet
     return number
+
+
+def number_octets(number, width):
+    """Write a number in so many bytes, the most significant one first; a negative one in two's complement."""
+    return [(number >> (8 * at)) & GREATEST_BYTE for at in reversed(range(width))]
+
+
+def least_width(number):
+    """Return the smallest number of bytes that holds a number from 0 on, at least 1."""
+    return max(1, (number.bit_length() + 7) // 8)
 
 
 def check_bytes(data):
@@ -49,7 +61,7 @@ def _check_trailer(layout):
     if not 1 <= layout.count <= MOST_OBJECTS:
         raise Torn("count", begin + 8)
     if layout.root >= layout.count:
-        raise Torn("top", begin + 16)
+        raise Torn("top", begin + TOP_PLACE)
     end = layout.table + layout.count * layout.offset_width
     if layout.table <= len(HEADER) or end != begin:
         raise Torn("table", begin + 24)

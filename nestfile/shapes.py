@@ -1,6 +1,7 @@
-"""The shape of a web of objects: which of them are alike, and the one order of all that differ."""
+"""The web of objects of a file: its rings, and which objects are alike."""
 
 from nestfile.errors import Torn
+from nestfile.rows import part_links, row_number
 
 
 def leaves_first(nodes):
@@ -70,43 +71,53 @@ def _links(node):
     return [links[label] for label in labels] + [node.members[label] for label in labels]
 
 
-def _classes(nodes, order):
-    """Give alike objects one number; return the rows of these numbers and the number of each object.
+class Web:
+    """What the objects of a file say, whichever of them is the top one.
 
-    A row is (kind, worth, numbers of the parts). The kind keeps True from 1.
+    `rows` lists their rows, each behind those that it links to, `numbers`
+    leads from each row to its number, and `owners` tells for each object the
+    number of its row. For the part with each row, `depths` and `counts` tell
+    its depth and its number of parts, and `begins` at which of these parts
+    each of its items or members begins.
     """
-    found = {}
-    owners = [0] * len(nodes)
-    for number in order:
-        node = nodes[number]
-        row = (node.kind, node.worth, tuple([owners[link] for link in _links(node)]))
-        owners[number] = found.setdefault(row, len(found))
-    return list(found), owners
+
+    def __init__(self, nodes, order):
+        numbers = {}
+        owners = [0] * len(nodes)
+        for number in order:
+            node = nodes[number]
+            links = tuple([owners[link] for link in _links(node)])
+            owners[number] = row_number(numbers, (node.kind, node.worth, links))
+        rows = list(numbers)
+        begins, counts = _counted(rows)
+        self.numbers = numbers
+        self.rows = tuple(rows)
+        self.owners = tuple(owners)
+        self.depths = tuple(_depths(rows))
+        self.begins = tuple(begins)
+        self.counts = tuple(counts)
 
 
-def _renumbered(row, numbers):
-    kind, worth, links = row
-    return kind, worth, tuple([numbers[link] for link in links])
+def _depths(rows):
+    depths = []
+    for row in rows:
+        depths.append(1 + max([depths[link] for link in part_links(row)], default=-1))
+    return depths
 
 
-def shape_of(nodes, order, root):
-    """List the different objects of a value as rows (kind, worth, references).
-
-    The rows stand in the order of the shortest file: as they are first met
-    from the top on, the top one last. So equal values have equal shapes.
-    """
-    rows, owners = _classes(nodes, order)
-    top = owners[root]
-    numbers = {}
-    waiting = [top]
-    while waiting:
-        at = waiting.pop()
-        if at not in numbers:
-            # The top one is met first; nothing refers to it, so its number is never read.
-            numbers[at] = len(numbers) - 1
-            waiting.extend(list(reversed(rows[at][2])))
-    met = [at for at in numbers if at != top] + [top]
-    return tuple([_renumbered(rows[at], numbers) for at in met])
+def _counted(rows):
+    """Return the lists `begins` and `counts` of a web."""
+    begins = []
+    counts = []
+    for row in rows:
+        place = 1
+        places = []
+        for link in part_links(row):
+            places.append(place)
+            place = place + counts[link]
+        begins.append(tuple(places))
+        counts.append(place)
+    return begins, counts
 
 
 def reached(nodes, root):

@@ -1,13 +1,16 @@
-"""The examples of the document, with the files that they write put together by hand."""
+"""The examples of the document that need no later module."""
 
 import importlib
 import inspect
 import unittest
 
-from making import array, built, integer
-from nestfile.errors import NestError, NoPart, NoValue, Torn
+from making import array, built, doubling, integer
+from nestfile.errors import Large, NestError, NoPart, NoPlace, NoValue, Torn
 from nestfile.files import entries, find, read, top
+from nestfile.paths import part, steps
 from nestfile.values import Wide, alike, check
+from nestfile.webs import common, depth, different, parting, parts, path_at, place_of, times, where
+from nestfile.writing import account, write
 
 FIVE = built([integer(5)])
 LIST = built([integer(7), array([0])])
@@ -30,6 +33,14 @@ INTERFACE = [
     ("files", "Entry", ["kind", "place", "length", "references"], ["__eq__"]),
     ("files", "octets", ["nest"], []), ("files", "entries", ["nest"], []), ("files", "top", ["nest"], []),
     ("files", "unused", ["nest"], []), ("files", "gaps", ["nest"], []), ("files", "find", ["nest", "path"], []),
+    ("webs", "parts", ["nest"], []), ("webs", "depth", ["nest"], []), ("webs", "different", ["nest"], []),
+    ("webs", "times", ["nest", "value"], []), ("webs", "where", ["nest", "value"], []),
+    ("webs", "common", ["nest", "other"], []), ("webs", "path_at", ["nest", "place"], []),
+    ("webs", "place_of", ["nest", "path"], []), ("webs", "parting", ["nest", "other"], []),
+    ("writing", "write", ["value"], []), ("writing", "shrink", ["nest"], []), ("writing", "account", ["nest"], []),
+    ("writing", "Account", ["gaps", "unused", "twice", "wide", "references", "table"], ["__eq__"]),
+    ("paths", "part", ["nest", "path", "most"], []), ("paths", "steps", ["nest", "path"], []),
+    ("paths", "inner", ["nest", "path"], []),
 ]
 
 
@@ -44,6 +55,12 @@ class TestExamples(unittest.TestCase):
         self.raises(NoValue, {"path": (1, "a")}, check, [1, {"a": (2,)}])
         self.raises(NoValue, {"path": ()}, Wide, [97])
         self.assertEqual((alike(True, 1), alike({"a": 1, "b": 2}, {"b": 2, "a": 1})), (False, True))
+
+    def test_written_files(self):
+        self.assertEqual(bytes(write(5)).hex(),
+                         "62706c6973743030100508000000000000010100000000000000010000000000000000000000000000000a")
+        self.assertEqual(len(write([7, 7])), 47)
+        self.assertEqual((write(5), write([7]), write([7, 7])), (FIVE, LIST, PAIR))
 
     def test_good_files(self):
         nest = read(PAIR)
@@ -61,6 +78,27 @@ class TestExamples(unittest.TestCase):
     def test_find(self):
         self.raises(NoPart, {"length": 0}, find, read(LIST), (1,))
 
+    def test_account(self):
+        nest = read(list(bytes.fromhex(
+            "62706c697374303011000508000000000000010100000000000000010000000000000000000000000000000b")))
+        self.assertEqual((account(nest).wide, account(nest).table), (1, 0))
+
+    def test_webs(self):
+        # The example joins nests; here the same lists are put together by hand.
+        nest = read(doubling(4, integer(0)))
+        self.assertEqual((parts(nest), depth(nest), different(nest)), (15, 3, 4))
+        nest = read(write([[5], {"a": 5}]))
+        self.assertEqual((times(nest, 5), where(nest, 5), where(nest, True)), (2, (0, 0), None))
+        self.assertEqual((path_at(nest, 4), place_of(nest, (1,))), ((1, "a"), 3))
+        self.assertEqual(parting(read(write([1, {"a": 2}])), read(write([1, {"a": 3}]))), (1, "a"))
+        self.assertEqual(common(read(write([1, 2])), read(write([2, 3]))), 1)
+        self.raises(NoPlace, {"place": 5}, path_at, nest, 5)
+
+    def test_paths(self):
+        nest = read(write({"b": 1, "a": [True]}))
+        self.assertEqual((part(nest, ("a",)), steps(nest, ())), ([True], ["a", "b"]))
+        self.raises(Large, {"what": "depth"}, part, read(doubling(102)), ())
+
 
 class TestInterface(unittest.TestCase):
     def test_names_and_parameters(self):
@@ -72,6 +110,15 @@ class TestInterface(unittest.TestCase):
                     self.assertEqual(list(inspect.signature(thing).parameters), parameters)
                 for method in methods:
                     self.assertIn(method, vars(thing))
+
+    def test_what_is_named_and_what_has_a_default(self):
+        most = inspect.signature(part).parameters["most"]
+        self.assertEqual((most.kind, most.default), (inspect.Parameter.KEYWORD_ONLY, 20_000))
+        for module, name, parameters, _ in INTERFACE:
+            if parameters is not None:
+                thing = getattr(importlib.import_module("nestfile." + module), name)
+                for one in list(inspect.signature(thing).parameters.values())[:2]:
+                    self.assertEqual((one.kind, one.default), (inspect.Parameter.POSITIONAL_OR_KEYWORD, one.empty))
 
 
 if __name__ == "__main__":

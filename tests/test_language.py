@@ -12,6 +12,8 @@ BUILTINS = {
     "tuple", "dict", "set", "isinstance", "ord", "repr", "any", "all", "divmod", "iter", "next", "ValueError",
     "KeyError", "NotImplemented", "True", "False", "None"}
 METHODS = {"__init__", "__eq__", "__len__", "__contains__"}
+CALLED = {"append", "extend", "get", "index", "items", "join", "pop", "setdefault", "values", "bit_length", "isascii",
+          "isprintable", "translate"}
 WORDS = r"\b(type|typing|enum|Enum|Flag|Generic|Protocol|ABC|namedtuple|NamedTuple)\b|dataclass|overload|contextmanager"
 
 
@@ -99,6 +101,32 @@ class TestLanguage(unittest.TestCase):
         for path, node in nodes(ast.BinOp):
             if isinstance(node.op, ast.Pow):
                 self.assertIsInstance(node.right, ast.Constant, path)
+
+    def test_methods_of_builtin_values(self):
+        for path, node in nodes(ast.Call):
+            if isinstance(node.func, ast.Attribute):
+                self.assertIn(node.func.attr, CALLED, path)
+                self.assertEqual(node.keywords, [], path)
+
+    def test_local_names_are_not_those_of_classes_and_imports(self):
+        for path, tree in trees():
+            taken = {node.name for node in ast.walk(tree) if isinstance(node, ast.ClassDef)}
+            taken |= {node.name for node in ast.walk(tree) if isinstance(node, ast.alias)}
+            for node in ast.walk(tree):
+                if isinstance(node, ast.FunctionDef):
+                    self.assertFalse(taken & bound(ast.Module(node.body, [])), (path, node.name))
+                    self.assertFalse(taken & {one.arg for one in ast.walk(node.args) if isinstance(one, ast.arg)}, path)
+
+    def test_comparisons_by_is(self):
+        for path, node in nodes(ast.Compare):
+            for sign, other in zip(node.ops, node.comparators):
+                if isinstance(sign, (ast.Is, ast.IsNot)):
+                    self.assertIsInstance(other, ast.Constant, path)
+
+    def test_each_attribute_is_assigned_by_a_class(self):
+        assigned = {node.attr for _, node in nodes(ast.Attribute) if isinstance(node.ctx, ast.Store)}
+        for path, node in nodes(ast.Attribute):
+            self.assertIn(node.attr, assigned | CALLED, path)
 
     def test_words_that_do_not_occur(self):
         for path, tree in trees():

@@ -1,12 +1,15 @@
-"""Files of up to 50,000 bytes are read in seconds at most, whatever they hold."""
+"""Files of up to 50,000 bytes are read and asked in seconds at most, whatever they hold."""
 
 import time
 import unittest
 
-from making import NONE, array, built, chain, data, dictionary, doubling, framed, number, text
+from making import NONE, TRUE, array, built, chain, data, dictionary, doubling, framed, integer, number, text
 from nestfile.errors import Torn
 from nestfile.files import entries, find, gaps, octets, read, unused
-from nestfile.values import check
+from nestfile.paths import inner, part, steps
+from nestfile.values import Data, Wide, check
+from nestfile.webs import common, depth, different, parting, parts, path_at, place_of, times, where
+from nestfile.writing import account, shrink, write
 
 SECONDS = 5
 
@@ -32,7 +35,27 @@ class TestSpeed(unittest.TestCase):
         self.assertEqual(len(entries(nest)), len(nest))
         unused(nest)
         gaps(nest)
+        self.asked(nest, read(file))
         return nest
+
+    def asked(self, nest, same):
+        """Ask all that can be asked of a nest, and see that the answers fit together."""
+        many = parts(nest)
+        for place in (many - 1, many // 3, many // 7):
+            path = path_at(nest, place)
+            self.assertEqual(place_of(nest, path), place)
+            self.assertEqual(parting(inner(nest, path), inner(same, path)), None)
+            steps(nest, path)
+        for value in (None, 0, "x", [], [None, None], {"k1": True}):
+            found = where(nest, value)
+            self.assertEqual(times(nest, value) > 0, found is not None)
+        self.assertLessEqual(common(nest, same), different(nest))
+        self.assertIsNone(parting(nest, same))
+        shrunk = read(shrink(nest))
+        self.assertTrue(shrunk == nest)
+        self.assertEqual(sum(vars(account(nest)).values()), len(octets(nest)) - len(octets(shrunk)))
+        if many <= 100_000 and depth(nest) <= 100:
+            part(nest, (), most=100_000)
 
     def test_objects_that_overlap_a_thousandfold(self):
         # Everywhere begins an object with thousands of bytes or references.
@@ -94,6 +117,38 @@ class TestSpeed(unittest.TestCase):
         self.sound(built(objects))
         objects = [NONE] + [array([at] * 180) for at in range(250)]
         self.sound(built(objects))
+
+    def test_numbers_of_thousands_of_digits(self):
+        self.sound(built([NONE] + [array([at] * 4, 2) for at in range(4_000)], reference_width=2))
+        self.sound(built([NONE, TRUE] + [array([at, at + 1], 2) for at in range(6_800)], reference_width=2))
+        keys = [text("a"), text("b")]
+        self.sound(built(keys + [dictionary([(1, at), (0, at - 1)], 2) for at in range(1, 4_400)], reference_width=2))
+
+    def test_many_leaves(self):
+        self.sound(built([integer(at) for at in range(7_000)] + [array(range(7_000), 2)], reference_width=2))
+        self.sound(built([data([1] * 40_000), array([0] * 8_000)]))
+
+    def test_values_at_many_places(self):
+        deep = 0
+        for _ in range(99):
+            deep = [deep]
+        self.sound(write([deep] * 190))
+        self.sound(write([0] * 19_999))
+        self.sound(write([{"a": at} for at in range(3_000)]))
+        leaves = [Data([1] * 40_000), Wide([8364] * 20_000), "x" * 40_000]
+        for value in leaves:
+            for file in (write([value] * 19_999), write({"k" + str(at): value for at in range(9_000)})):
+                self.assertGreater(len(file), 40_000)
+        nest = read(write(leaves[0]))
+        self.assertEqual(times(nest, [leaves[0]] * 19_999), 0)
+
+    def test_often_in_a_row(self):
+        nest = read(write([[0] * 98] * 190))
+        for place in range(0, 18_811, 3):
+            self.assertEqual(place_of(nest, path_at(nest, place)), place)
+        nest = read(write([0] * 19_999))
+        for place in range(0, 20_000, 3):
+            self.assertEqual(place_of(nest, path_at(nest, place)), place)
 
     def test_values(self):
         deep = 0
