@@ -2,10 +2,10 @@
 
 from nestfile.errors import NoPart
 from nestfile.layout import HEADER, TOP_PLACE, Layout, check_bytes, number_octets, read_layout
-from nestfile.objects import read_nodes
-from nestfile.rows import shape_of
-from nestfile.shapes import Web, check_rings, leaves_first, reached
-from nestfile.values import is_integer
+from nestfile.objects import read_objects
+from nestfile.rows import images_of
+from nestfile.shapes import Web, reached
+from nestfile.values import is_between
 
 
 class Entry:
@@ -23,31 +23,41 @@ class Entry:
 
 
 class Nest:
-    """A file that was read; `read` makes it. Equal shapes mean equal values."""
+    """A file that was read; `read` makes it."""
 
-    def __init__(self, layout, nodes, web):
+    def __init__(self, layout, objects, web):
         self.layout = layout
-        self.nodes = tuple(nodes)
+        self.objects = objects
         self.web = web
         self.top_row = web.owners[layout.root]
-        self.shape = shape_of(web.rows, self.top_row)
 
     def __len__(self):
-        return len(self.nodes)
+        return len(self.objects.kinds)
 
     def __eq__(self, other):
-        return isinstance(other, Nest) and self.shape == other.shape
+        return isinstance(other, Nest) and _are_equal(self, other)
 
     def __contains__(self, path):
         return _walk(self, path)[1] == len(path)
 
 
-def _follow(node, step):
+def _are_equal(nest, other):
+    """Tell whether the values of two nests are alike."""
+    # Most that are unequal have another number of parts, which takes no time to see.
+    if nest.web.counts[nest.top_row] != other.web.counts[other.top_row]:
+        return False
+    images = images_of(nest.web.numbers, other.web.rows[:other.top_row + 1])
+    return images[other.top_row] == nest.top_row
+
+
+def _follow(objects, number, step):
     """Return the number to which one step leads, or None if it cannot be taken."""
-    if node.kind == "list" and is_integer(step) and 0 <= step < len(node.references):
-        return node.references[step]
-    if isinstance(step, str) and step in node.members:
-        return node.members[step]
+    kind = objects.kinds[number]
+    links = objects.references[number]
+    if kind == "list" and is_between(step, 0, len(links) - 1):
+        return links[step]
+    if kind == "dictionary" and isinstance(step, str):
+        return objects.members[number].get(step)
     return None
 
 
@@ -55,7 +65,7 @@ def _walk(nest, path):
     """Return the number to which the steps lead that can be taken, and how many these are."""
     number = nest.layout.root
     for taken, step in enumerate(path):
-        following = _follow(nest.nodes[number], step)
+        following = _follow(nest.objects, number, step)
         if following is None:
             return number, taken
         number = following
@@ -66,10 +76,8 @@ def read(data):
     """Check a file and return its nest."""
     check_bytes(data)
     layout = read_layout(data)
-    nodes = read_nodes(layout)
-    order = leaves_first(nodes)
-    check_rings(nodes, order)
-    return Nest(layout, nodes, Web(nodes, order))
+    objects = read_objects(layout)
+    return Nest(layout, objects, Web(objects, layout.root))
 
 
 def with_top(nest, number):
@@ -78,7 +86,7 @@ def with_top(nest, number):
     place = nest.layout.trailer + TOP_PLACE
     data[place:place + 8] = number_octets(number, 8)
     # Whichever object is the top one, a file without faults has none.
-    return Nest(Layout(data), nest.nodes, nest.web)
+    return Nest(Layout(data), nest.objects, nest.web)
 
 
 def octets(nest):
@@ -88,7 +96,9 @@ def octets(nest):
 
 def entries(nest):
     """List the objects of the file in the order of their numbers."""
-    return [Entry(node.kind, node.place, node.length, node.references) for node in nest.nodes]
+    objects = nest.objects
+    spread = zip(objects.kinds, objects.places, objects.ends, objects.references)
+    return [Entry(kind, place, end - place, links) for kind, place, end, links in spread]
 
 
 def top(nest):
@@ -98,14 +108,14 @@ def top(nest):
 
 def unused(nest):
     """List the numbers of the objects to which nothing leads from the top one."""
-    met = reached(nest.nodes, nest.layout.root)
+    met = reached(nest.objects.references, nest.layout.root)
     return [number for number, used in enumerate(met) if not used]
 
 
 def gaps(nest):
     """List the stretches (begin, end) of bytes before the offset table that belong to no object."""
     table = nest.layout.table
-    taken = sorted([(node.place, node.place + node.length) for node in nest.nodes])
+    taken = sorted(zip(nest.objects.places, nest.objects.ends))
     found = []
     end = len(HEADER)
     for place, behind in taken + [(table, table)]:

@@ -1,7 +1,7 @@
 """The frame of a file: its header, its trailer and its offset table."""
 
 from nestfile.errors import NoBytes, Torn
-from nestfile.values import GREATEST_BYTE, is_between
+from nestfile.values import GREATEST_BYTE, are_between, is_between
 
 HEADER = (98, 112, 108, 105, 115, 116, 48, 48)
 TRAILER_LENGTH = 32
@@ -33,9 +33,27 @@ def number_at(data, place, width):
     return number
 
 
+def numbers_between(data, begin, end, width):
+    """Read all numbers of so many bytes that stand side by side between two places."""
+    numbers = data[begin:end:width]
+    for at in range(begin + 1, begin + width):
+        numbers = [number * 256 + octet for number, octet in zip(numbers, data[at:end:width])]
+    return list(numbers)
+
+
 def number_octets(number, width):
     """Write a number in so many bytes, the most significant one first; a negative one in two's complement."""
+    if width == 1:
+        return [number & GREATEST_BYTE]
     return [(number >> (8 * at)) & GREATEST_BYTE for at in reversed(range(width))]
+
+
+def numbers_octets(numbers, width):
+    """Write numbers from 0 on side by side, each in so many bytes."""
+    if width == 1:
+        return list(numbers)
+    shifts = [8 * at for at in reversed(range(width))]
+    return [(number >> shift) & GREATEST_BYTE for number in numbers for shift in shifts]
 
 
 def least_width(number):
@@ -44,6 +62,9 @@ def least_width(number):
 
 
 def check_bytes(data):
+    """Raise NoBytes for the first element that is not a byte."""
+    if are_between(data, 0, GREATEST_BYTE):
+        return
     for place, octet in enumerate(data):
         if not is_between(octet, 0, GREATEST_BYTE):
             raise NoBytes(place)
@@ -81,11 +102,10 @@ def read_layout(data):
 
 def read_places(layout):
     """List the places of all objects, as the offset table tells them."""
-    places = []
-    for number in range(layout.count):
-        entry = layout.table + number * layout.offset_width
-        place = number_at(layout.data, entry, layout.offset_width)
-        if place < len(HEADER) or place >= layout.table:
-            raise Torn("offset", entry)
-        places.append(place)
+    low = len(HEADER)
+    high = layout.table - 1
+    places = numbers_between(layout.data, layout.table, layout.trailer, layout.offset_width)
+    if min(places) < low or max(places) > high:
+        wrong = [is_between(place, low, high) for place in places].index(False)
+        raise Torn("offset", layout.table + wrong * layout.offset_width)
     return places

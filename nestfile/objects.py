@@ -1,8 +1,8 @@
 """The objects of a file: where they stand and what they say."""
 
 from nestfile.errors import Torn
-from nestfile.layout import number_at, read_places
-from nestfile.values import HIGHEST, LOWEST, is_plain_number
+from nestfile.layout import number_at, numbers_between, read_places
+from nestfile.values import HIGHEST, LOWEST, are_plain_numbers
 
 # Markers of the objects that always have the same number of bytes behind them.
 FIXED = {
@@ -20,42 +20,76 @@ FIXED = {
 }
 # First digits of the markers whose second digit tells a size.
 SIZED = {0x4: "data", 0x5: "string", 0x6: "string", 0xA: "list", 0xD: "dictionary"}
+HOLDERS = ("list", "dictionary")
 UID_DIGIT = 0x8
 NARROW_DIGIT = 0x5
+BROAD_DIGIT = 0x6
 TRUE_MARKER = 0x09
 SIZE_FOLLOWS = 15
-# The characters from number 32 on. The sixth one only keeps the place of the
-# percent sign, which is not plain.
-PLAIN = " !\"#$ &'()*+,-./0123456789:;<=>?@ABCDEFGHIJKLMNOPQRSTUVWXYZ[\\]^_`abcdefghijklmnopqrstuvwxyz{|}~"
+# Numbers of more bytes than this may be out of range.
+SURE_WIDTH = 8
+# The characters from number 32 to 126. A line feed stands in the place of the percent sign, which is not plain.
+PLAIN = " !\"#$\n&'()*+,-./0123456789:;<=>?@ABCDEFGHIJKLMNOPQRSTUVWXYZ[\\]^_`abcdefghijklmnopqrstuvwxyz{|}~"
+# The character of each byte: a line feed for one that is not plain, a tab for one that no 0x5n string may have.
+SIGNS = "\n" * 32 + PLAIN + "\n" + "\t" * 128
+NOT_PLAIN = "\n"
+FAULT = "\t"
 
 
-class Span:
-    """The bytes of an object: its marker, the begin of its content, and what is behind it."""
+class Objects:
+    """The objects of a file as they were read, each at the place of its number.
 
-    def __init__(self, kind, place, start, end):
-        self.kind = kind
-        self.place = place
-        self.start = start
-        self.end = end
-
-
-class Node:
-    """An object as it was read.
-
-    `worth` is what a part without references says: nothing, a truth, a number,
-    a string, or the numbers of its bytes or characters. `labels` are the keys
-    of a dictionary in the order of the file, and `members` leads from each key
-    to the number of its value.
+    An object has a kind, the place of its marker, the place behind its last
+    byte, its references in the order of the file, and a worth: what it says
+    without references, which is nothing, a truth, a number, a string, or the
+    numbers of its bytes or characters. `members` leads from the number of each
+    dictionary to a dict of its keys, in the order of the file, and the numbers
+    of their values.
     """
 
-    def __init__(self, span, worth, references, labels):
-        self.kind = span.kind
-        self.place = span.place
-        self.length = span.end - span.place
-        self.worth = worth
-        self.references = tuple(references)
-        self.labels = tuple(labels)
-        self.members = {label: references[len(labels) + at] for at, label in enumerate(labels)}
+    def __init__(self, spans):
+        self.kinds = tuple(spans.kinds)
+        self.places = tuple(spans.places)
+        self.ends = tuple(spans.ends)
+        self.references = tuple(_references(spans))
+        self.worths = tuple(_worths(spans))
+        self.members = _members(spans, self.references, self.worths)
+
+
+class Spans:
+    """The bytes of all objects: where their markers stand, and where their content begins and ends.
+
+    While they are measured and checked one after the other, objects may still
+    stand over each other, so that thousands of them share the same thousands
+    of bytes. So tables tell for each place of the file what begins there; they
+    are made when they are first needed. `signs` is the text of 0x5n strings,
+    `numbers` are the references, and `marks` tells which of these are faults.
+    """
+
+    def __init__(self, layout):
+        self.layout = layout
+        self.places = read_places(layout)
+        self.kinds = []
+        self.begins = []
+        self.ends = []
+        self.signs = ""
+        self.numbers = ()
+        self.marks = ""
+
+
+def _read_signs(spans):
+    if spans.signs == "":
+        spans.signs = "".join([SIGNS[octet] for octet in spans.layout.data[:spans.layout.table]])
+
+
+def _read_numbers(spans):
+    if spans.marks == "":
+        layout = spans.layout
+        numbers = layout.data[:layout.table]
+        for at in range(1, layout.reference_width):
+            numbers = [number * 256 + octet for number, octet in zip(numbers, layout.data[at:layout.table])]
+        spans.numbers = tuple(numbers)
+        spans.marks = "".join([FAULT if number >= layout.count else " " for number in numbers])
 
 
 def _integer_at(data, place, width):
@@ -66,10 +100,7 @@ def _integer_at(data, place, width):
 
 
 def _read_size(layout, place):
-    """Return where the content of an object begins, and its size."""
-    size = layout.data[place] & 15
-    if size < SIZE_FOLLOWS:
-        return place + 1, size
+    """Return how many bytes of an object stand before its content, and its size."""
     at = place + 1
     if at >= layout.table:
         raise Torn("end", place)
@@ -81,12 +112,12 @@ def _read_size(layout, place):
     size = _integer_at(layout.data, at + 1, width)
     if size < 0:
         raise Torn("size", at)
-    return at + 1 + width, size
+    return 2 + width, size
 
 
 def _unit(layout, digit):
     """Return the number of bytes that each step of a size stands for."""
-    if digit == 0x6:
+    if digit == BROAD_DIGIT:
         return 2
     if digit == 0xA:
         return layout.reference_width
@@ -95,127 +126,155 @@ def _unit(layout, digit):
     return 1
 
 
-def _measure(layout, place):
-    """Find the bytes of the object that begins at a place."""
+def _widths(layout, place):
+    """Return the kind of the object at a place, and how many bytes stand before its content and in it."""
     marker = layout.data[place]
     digit = marker >> 4
     if marker in FIXED:
         kind, width = FIXED[marker]
-        span = Span(kind, place, place + 1, place + 1 + width)
-    elif digit == UID_DIGIT:
-        span = Span("uid", place, place + 1, place + 2 + (marker & 15))
-    elif digit in SIZED:
-        start, size = _read_size(layout, place)
-        span = Span(SIZED[digit], place, start, start + size * _unit(layout, digit))
-    else:
+        return kind, 1, width
+    if digit == UID_DIGIT:
+        return "uid", 1, 1 + (marker & 15)
+    if digit not in SIZED:
         raise Torn("marker", place)
-    if span.end > layout.table:
+    skipped = 1
+    size = marker & 15
+    if size == SIZE_FOLLOWS:
+        skipped, size = _read_size(layout, place)
+    return SIZED[digit], skipped, size * _unit(layout, digit)
+
+
+def _check_range(layout, kind, place, width):
+    if kind == "integer" and not LOWEST <= _integer_at(layout.data, place + 1, width) <= HIGHEST:
+        raise Torn("range", place)
+    if kind == "uid" and number_at(layout.data, place + 1, width) > HIGHEST:
+        raise Torn("range", place)
+
+
+def _measured(spans, place):
+    """Return what `_widths` returns, and a text with a fault's mark where each step of the content must have none."""
+    layout = spans.layout
+    kind, skipped, width = _widths(layout, place)
+    if place + skipped + width > layout.table:
         raise Torn("end", place)
-    return span
+    _check_range(layout, kind, place, width)
+    if kind in HOLDERS:
+        _read_numbers(spans)
+        return kind, skipped, width, spans.marks, layout.reference_width
+    if layout.data[place] >> 4 == NARROW_DIGIT:
+        _read_signs(spans)
+        return kind, skipped, width, spans.signs, 1
+    return kind, skipped, width, "", 1
 
 
-def _first_wrong(layout, width, limit):
-    """For each place, find the first one from there on, in steps of a width, where a number reaches a limit.
-
-    Objects may still overlap when they are checked, so that thousands of them
-    share the same thousands of bytes: with this table each is checked at once.
-    """
-    table = layout.table
-    found = [table] * (table + width)
-    number = 0
-    for place in reversed(range(table)):
-        number = (number >> 8) | (layout.data[place] << (8 * (width - 1)))
-        found[place] = place if number >= limit else found[place + width]
-    return found
-
-
-def _check_content(layout, span, signs, references):
-    """Check one object; `signs` and `references` are tables of `_first_wrong`."""
-    if span.kind in ("integer", "uid") and not LOWEST <= _worth(layout, span) <= HIGHEST:
-        raise Torn("range", span.place)
-    if layout.data[span.place] >> 4 == NARROW_DIGIT and signs[span.start] < span.end:
-        raise Torn("ascii", signs[span.start])
-    if span.kind in ("list", "dictionary") and references[span.start] < span.end:
-        raise Torn("reference", references[span.start])
+def _is_settled(marker, kind, width):
+    """Tell whether all objects with this marker have the same number of bytes and a number in range."""
+    if marker >> 4 in SIZED:
+        return marker & 15 != SIZE_FOLLOWS
+    return kind not in ("integer", "uid") or width <= SURE_WIDTH
 
 
 def _read_spans(layout):
-    places = read_places(layout)
-    signs = _first_wrong(layout, 1, 128)
-    references = _first_wrong(layout, layout.reference_width, layout.count)
-    spans = []
-    for place in places:
-        span = _measure(layout, place)
-        _check_content(layout, span, signs, references)
-        spans.append(span)
+    """Measure and check all objects, one after the other."""
+    spans = Spans(layout)
+    # What is known of objects by their markers: asked for each alone, thousands of small ones would take long.
+    known = {}
+    for place in spans.places:
+        marker = layout.data[place]
+        if marker in known:
+            kind, skipped, width, marks, step = known[marker]
+        else:
+            kind, skipped, width, marks, step = _measured(spans, place)
+            if _is_settled(marker, kind, width):
+                known[marker] = (kind, skipped, width, marks, step)
+        begin = place + skipped
+        end = begin + width
+        if end > layout.table:
+            raise Torn("end", place)
+        if FAULT in marks[begin:end:step]:
+            word = "ascii" if kind == "string" else "reference"
+            raise Torn(word, begin + step * marks[begin:end:step].index(FAULT))
+        spans.kinds.append(kind)
+        spans.begins.append(begin)
+        spans.ends.append(end)
     return spans
 
 
 def _check_overlap(spans):
-    end = 0
-    for place, behind in sorted([(span.place, span.end) for span in spans]):
-        if place < end:
-            raise Torn("overlap", place)
-        end = behind
+    # Where one begins before all that begin before it have ended, two share a byte.
+    begins = sorted(spans.places)
+    ends = sorted(spans.ends)
+    shared = [begin for begin, end in zip(begins[1:], ends) if begin < end]
+    if shared:
+        raise Torn("overlap", shared[0])
 
 
-def _text(units):
-    """Return a string if all characters are plain, and otherwise their numbers."""
-    if all([is_plain_number(unit) for unit in units]):
-        return "".join([PLAIN[unit - 32] for unit in units])
+def _references(spans):
+    """List the references of each object."""
+    width = spans.layout.reference_width
+    numbers = spans.numbers
+    spread = zip(spans.kinds, spans.begins, spans.ends)
+    return [numbers[begin:end:width] if kind in HOLDERS else () for kind, begin, end in spread]
+
+
+def _string(spans, place, begin, end):
+    """Read a string if all characters are plain, and otherwise their numbers."""
+    data = spans.layout.data
+    if data[place] >> 4 == NARROW_DIGIT:
+        text = spans.signs[begin:end]
+        return data[begin:end] if NOT_PLAIN in text else text
+    units = numbers_between(data, begin, end, 2)
+    if are_plain_numbers(units):
+        return "".join([SIGNS[unit] for unit in units])
     return tuple(units)
 
 
-def _worth(layout, span):
-    """Read what an object says; lists and dictionaries say nothing but their references."""
-    data = layout.data
-    width = span.end - span.start
-    if span.kind == "truth":
-        return data[span.place] == TRUE_MARKER
-    if span.kind == "integer":
-        return _integer_at(data, span.start, width)
-    if span.kind == "uid":
-        return number_at(data, span.start, width)
-    if span.kind in ("real", "date", "data"):
-        return data[span.start:span.end]
-    if data[span.place] >> 4 == NARROW_DIGIT:
-        return _text(data[span.start:span.end])
-    if span.kind == "string":
-        return _text([number_at(data, at, 2) for at in range(span.start, span.end, 2)])
-    return None
+def _worths(spans):
+    """List what the objects say; lists and dictionaries say nothing but their references."""
+    data = spans.layout.data
+    worths = []
+    for kind, place, begin, end in zip(spans.kinds, spans.places, spans.begins, spans.ends):
+        if kind in ("list", "dictionary", "none"):
+            worths.append(None)
+        elif kind == "truth":
+            worths.append(data[place] == TRUE_MARKER)
+        elif kind == "integer":
+            worths.append(_integer_at(data, begin, end - begin))
+        elif kind == "string":
+            worths.append(_string(spans, place, begin, end))
+        elif kind == "uid":
+            worths.append(number_at(data, begin, end - begin))
+        else:
+            worths.append(data[begin:end])
+    return worths
 
 
-def _references(layout, span):
-    if span.kind not in ("list", "dictionary"):
-        return []
-    width = layout.reference_width
-    return [number_at(layout.data, at, width) for at in range(span.start, span.end, width)]
-
-
-def _labels(layout, span, references, worths):
-    """List the keys of a dictionary, in the order of the file."""
-    if span.kind != "dictionary":
-        return []
-    labels = {}
-    for at in range(len(references) // 2):
-        place = span.start + at * layout.reference_width
-        label = worths[references[at]]
+def _check_labels(labels, begin, width):
+    """Raise Torn for the first of the keys of a dictionary that is no string, or an earlier one again."""
+    met = {}
+    for at, label in enumerate(labels):
         if not isinstance(label, str):
-            raise Torn("key", place)
-        if label in labels:
-            raise Torn("twice", place)
-        labels[label] = True
-    return list(labels)
+            raise Torn("key", begin + at * width)
+        if label in met:
+            raise Torn("twice", begin + at * width)
+        met[label] = True
 
 
-def read_nodes(layout):
+def _members(spans, references, worths):
+    """Return the keys of all dictionaries and the numbers of their values."""
+    members = {}
+    for number, kind in enumerate(spans.kinds):
+        if kind == "dictionary":
+            links = references[number]
+            many = len(links) // 2
+            labels = [worths[link] for link in links[:many]]
+            _check_labels(labels, spans.begins[number], spans.layout.reference_width)
+            members[number] = dict(zip(labels, links[many:]))
+    return members
+
+
+def read_objects(layout):
     """Read all objects, of which none stands over another one."""
     spans = _read_spans(layout)
     _check_overlap(spans)
-    worths = [_worth(layout, span) for span in spans]
-    nodes = []
-    for number, span in enumerate(spans):
-        references = _references(layout, span)
-        labels = _labels(layout, span, references, worths)
-        nodes.append(Node(span, worths[number], references, labels))
-    return nodes
+    return Objects(spans)

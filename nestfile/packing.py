@@ -1,6 +1,6 @@
 """The bytes of the shortest file of a value, which its shape tells alone."""
 
-from nestfile.layout import HEADER, least_width, number_octets
+from nestfile.layout import HEADER, least_width, number_octets, numbers_octets
 from nestfile.objects import SIZE_FOLLOWS
 
 # The numbers that fit in 2 ** n bytes end before these. From 8 bytes on, n is 3, they have a sign.
@@ -32,7 +32,7 @@ def _string(worth):
     units = [ord(sign) for sign in worth] if isinstance(worth, str) else list(worth)
     if max(units, default=0) < NARROW_END:
         return _sized(0x50, len(units)) + units
-    return _sized(0x60, len(units)) + [octet for unit in units for octet in number_octets(unit, 2)]
+    return _sized(0x60, len(units)) + numbers_octets(units, 2)
 
 
 def head(row):
@@ -67,7 +67,7 @@ def reference_width(many):
 
 def _objects(shape):
     width = reference_width(len(shape))
-    return [head(row) + [octet for link in row[2] for octet in number_octets(link, width)] for row in shape]
+    return [head(row) + numbers_octets(row[2], width) if row[2] else head(row) for row in shape]
 
 
 def _standing(objects):
@@ -90,9 +90,7 @@ def packed(shape):
         data.extend(objects[number])
     table = len(data)
     width = least_width(max(places))
-    for place in places:
-        data.extend(number_octets(place, width))
+    data.extend(numbers_octets(places, width))
     data.extend([0, 0, 0, 0, 0, 0, width, reference_width(many)])
-    for number in (many, many - 1, table):
-        data.extend(number_octets(number, 8))
+    data.extend(numbers_octets((many, many - 1, table), 8))
     return data

@@ -50,10 +50,10 @@ def part(nest, path, *, most=MOST_PARTS):
 
 def steps(nest, path):
     """List the steps that can be taken from where a path leads."""
-    node = nest.nodes[find(nest, path)]
-    if node.kind == "list":
-        return list(range(len(node.references)))
-    return sorted(node.labels)
+    number = find(nest, path)
+    if nest.objects.kinds[number] == "list":
+        return list(range(len(nest.objects.references[number])))
+    return sorted(nest.objects.members.get(number, {}))
 
 
 def inner(nest, path):

@@ -6,20 +6,36 @@ numbers of its bytes or characters. The links are the numbers of other rows:
 those of the items of a list, or those of the keys of a dictionary, ascending,
 and then those of their values.
 
-A table leads from each row to its number. Rows are numbered as they come in,
-so that each stands behind those that it links to.
+Rows are numbered as they come in, so that each stands behind those that it
+links to.
 """
 
-from nestfile.values import kind_of, steps_of
+from nestfile.values import kind_of
 
 # From this length on, what a leaf says is first looked for among the few that were met and look like it.
 LONG = 200
 FEW = 8
 
 
-def row_number(table, row):
-    """Return the number of a row, which is put into the table unless it is there."""
-    return table.setdefault(row, len(table))
+class Table:
+    """The numbers of rows: those of a dict that is not changed, and behind them those of fresh rows."""
+
+    def __init__(self, known):
+        self.known = known
+        self.fresh = {}
+        # The long leaves that were met, by what they look like.
+        self.met = {}
+
+    def number_of(self, row):
+        """Return the number of a row, which is put in unless it is there."""
+        number = self.known.get(row)
+        if number is None:
+            return self.fresh.setdefault(row, len(self.known) + len(self.fresh))
+        return number
+
+    def listed(self):
+        """List all rows in the order of their numbers."""
+        return list(self.known) + list(self.fresh)
 
 
 def key_links(row):
@@ -52,64 +68,130 @@ def place_among(rows, row, step):
     return step
 
 
-def _told(part):
-    """Return the kind and the worth that the row of a part has."""
+def leaf_row(part):
+    """Return the row of a part that has no items or members."""
     kind = kind_of(part)
     if kind == "wide":
-        return "string", part.units
+        return "string", part.units, ()
     if kind == "uid":
-        return kind, part.number
+        return kind, part.number, ()
     if kind in ("data", "real", "date"):
-        return kind, part.octets
-    return kind, part
+        return kind, part.octets, ()
+    return kind, part, ()
 
 
-def _leaf_number(table, met, part):
-    """Return the number of the row of a part that has no items or members; `met` is a dict of long ones."""
-    kind, worth = _told(part)
+def _leaf_number(table, part):
+    """Return the number of the row of a part that has no items or members."""
+    row = leaf_row(part)
+    kind, worth, _ = row
     if not isinstance(worth, tuple) or len(worth) < LONG:
-        return row_number(table, (kind, worth, ()))
+        return table.number_of(row)
     # A long leaf may stand at thousands of places. The table would go through
     # all of its bytes each time; a list finds the very same tuple at once.
     looks = (kind, len(worth), worth[:FEW] + worth[-FEW:])
-    worths, numbers = met.setdefault(looks, ([], []))
+    worths, numbers = table.met.setdefault(looks, ([], []))
     if worth in worths:
         return numbers[worths.index(worth)]
-    number = row_number(table, (kind, worth, ()))
+    number = table.number_of(row)
     if len(worths) < FEW:
         worths.append(worth)
         numbers.append(number)
     return number
 
 
-def _listed(value):
-    """List the parts of a value in the order of paths, as (part, steps)."""
-    listed = []
-    waiting = [value]
-    while waiting:
-        part = waiting.pop()
-        steps = steps_of(part)
-        listed.append((part, steps))
-        waiting.extend([part[step] for step in reversed(steps)])
-    return listed
+class Level:
+    """All parts of one depth in the order of paths; `orders` lists the ascending keys of each dictionary of them."""
+
+    def __init__(self, parts):
+        self.parts = parts
+        self.orders = [sorted(part) for part in parts if isinstance(part, dict)]
+
+    def opened(self):
+        """List all items and members of these parts, in the order of paths."""
+        found = []
+        at = 0
+        for holder in [part for part in self.parts if isinstance(part, (list, dict))]:
+            if isinstance(holder, list):
+                found.extend(holder)
+            else:
+                found.extend([holder[key] for key in self.orders[at]])
+                at += 1
+        return found
+
+
+def _levels(value):
+    """List the levels of a value; the last one has parts without items and members alone."""
+    levels = []
+    parts = [value]
+    while parts:
+        level = Level(parts)
+        levels.append(level)
+        parts = level.opened()
+    return levels
+
+
+def _plain_numbers(table, parts):
+    """Return a dict from each string and integer among these parts to the number of its row, and how many they are."""
+    plain = [part for part in parts if isinstance(part, (int, str)) and part is not True and part is not False]
+    numbers = {}
+    for part in {part: True for part in plain}:
+        kind = "string" if isinstance(part, str) else "integer"
+        numbers[part] = table.number_of((kind, part, ()))
+    return numbers, len(plain)
+
+
+def _dictionary_number(table, keys, links):
+    names = [table.number_of(("string", key, ())) for key in keys]
+    return table.number_of(("dictionary", None, tuple(names + links)))
+
+
+def _level_numbers(table, level, below):
+    """List the numbers of the rows of a level; `below` are those of all that stands in its parts."""
+    # Thousands of parts are strings and integers that occur again and again: each is put in once.
+    plain, many = _plain_numbers(table, level.parts)
+    if many == len(level.parts):
+        return [plain[part] for part in level.parts]
+    numbers = []
+    orders = 0
+    begin = 0
+    for part in level.parts:
+        end = begin
+        if isinstance(part, list):
+            end += len(part)
+            number = table.number_of(("list", None, tuple(below[begin:end])))
+        elif isinstance(part, dict):
+            end += len(part)
+            number = _dictionary_number(table, level.orders[orders], below[begin:end])
+            orders += 1
+        elif part is True or part is False or not isinstance(part, (int, str)):
+            number = _leaf_number(table, part)
+        else:
+            number = plain[part]
+        begin = end
+        numbers.append(number)
+    return numbers
 
 
 def add_value(table, value):
     """Put the rows of a value into a table, and return the number of its own one."""
-    met = {}
-    # From the last part to the first one, all items and members come before
-    # what holds them, the first of these on top.
     numbers = []
-    for part, steps in reversed(_listed(value)):
-        links = [numbers.pop() for _ in steps]
-        if isinstance(part, list):
-            numbers.append(row_number(table, ("list", None, tuple(links))))
-        elif isinstance(part, dict):
-            names = [row_number(table, ("string", key, ())) for key in steps]
-            numbers.append(row_number(table, ("dictionary", None, tuple(names + links))))
-        else:
-            numbers.append(_leaf_number(table, met, part))
+    for level in reversed(_levels(value)):
+        numbers = _level_numbers(table, level, numbers)
     return numbers[0]
+
+
+def images_of(numbers, rows):
+    """List for each row its number among those of another web, or None if it has none there.
+
+    Each of the rows stands behind those that it links to.
+    """
+    images = []
+    for row in rows:
+        kind, worth, links = row
+        if links:
+            row = (kind, worth, tuple([images[link] for link in links]))
+        images.append(numbers.get(row))
+    return images
 
 
 def _renumbered(row, numbers):
@@ -130,6 +212,6 @@ def shape_of(rows, top):
         if at not in numbers:
             # The top one is met first; nothing refers to it, so its number is never read.
             numbers[at] = len(numbers) - 1
-            waiting.extend(list(reversed(rows[at][2])))
+            waiting.extend(rows[at][2][::-1])
     met = [at for at in numbers if at != top] + [top]
-    return tuple([_renumbered(rows[at], numbers) for at in met])
+    return tuple([_renumbered(rows[at], numbers) if rows[at][2] else rows[at] for at in met])

@@ -20,12 +20,12 @@ def is_between(thing, low, high):
     return is_integer(thing) and low <= thing <= high
 
 
-def is_plain_number(number):
-    """Tell whether a number is that of a plain character."""
-    return 32 <= number <= 126 and number != PERCENT
+def are_plain_numbers(numbers):
+    """Tell whether all these are numbers of plain characters."""
+    return min(numbers, default=32) >= 32 and max(numbers, default=32) <= 126 and PERCENT not in numbers
 
 
-def _are_plain(texts):
+def are_plain(texts):
     """Tell whether all these strings are plain. They are joined, and looked at all at once."""
     # A long string may stand at thousands of places; here it is taken once.
     text = "".join(list({one: True for one in texts}))
@@ -33,15 +33,22 @@ def _are_plain(texts):
     return text.isascii() and text.isprintable() and text.translate({37: None}) == text
 
 
+def are_between(things, low, high):
+    """Tell whether all these things are integers within the limits; thousands of them are looked at all at once."""
+    if [thing for thing in things if thing is True or thing is False or not isinstance(thing, int)]:
+        return False
+    return min(things, default=low) >= low and max(things, default=high) <= high
+
+
 def _are_numbers(things, highest):
-    return isinstance(things, (list, tuple)) and all([is_between(thing, 0, highest) for thing in things])
+    return isinstance(things, (list, tuple)) and are_between(things, 0, highest)
 
 
 class Wide:
     """A string of which at least one character is not plain, as the numbers of its characters."""
 
     def __init__(self, units):
-        if not _are_numbers(units, GREATEST_UNIT) or all([is_plain_number(unit) for unit in units]):
+        if not _are_numbers(units, GREATEST_UNIT) or are_plain_numbers(units):
             raise NoValue(())
         self.units = tuple(units)
 
@@ -147,7 +154,7 @@ def _members(parts):
     tables = [part for part in rest if isinstance(part, dict)]
     rest = [part for part in rest if not isinstance(part, (dict, Wide, Data, Uid, Real, Date))]
     keys = [key for table in tables for key in table]
-    if rest or not all([isinstance(key, str) for key in keys]) or not _are_plain(texts + keys):
+    if rest or not all([isinstance(key, str) for key in keys]) or not are_plain(texts + keys):
         return None
     return [item for items in lists for item in items] + [item for table in tables for item in table.values()]
 
@@ -211,8 +218,8 @@ def _wrong_path(value):
     return _path(levels[:many], place)
 
 
-def check(value):
-    """Raise NoValue or Large unless this is a value within the limits."""
+def measured(value):
+    """Return the depth and the number of parts of a value; raise NoValue or Large unless it is within the limits."""
     level = [value]
     depth = -1
     many = 0
@@ -226,6 +233,12 @@ def check(value):
         raise Large("depth")
     if many > MOST_PARTS:
         raise Large("parts")
+    return depth, many
+
+
+def check(value):
+    """Raise NoValue or Large unless this is a value within the limits."""
+    measured(value)
 
 
 def _agree(left, right):

@@ -2,8 +2,9 @@
 
 from nestfile.errors import NoPlace
 from nestfile.files import find
-from nestfile.rows import add_value, key_links, part_links, place_among, step_at
-from nestfile.values import check, is_between
+from nestfile.rows import Table, add_value, images_of, key_links, part_links, place_among, step_at
+from nestfile.shapes import sums_of, used_rows
+from nestfile.values import is_between, measured
 
 
 def parts(nest):
@@ -18,26 +19,26 @@ def depth(nest):
 
 def different(nest):
     """Return the number of different parts and keys; a key counts as a string."""
-    return len(nest.shape)
+    return len(used_rows(nest.web, nest.top_row))
 
 
-def _row_of(nest, value):
-    """Return the number of the row of a value, or None if no object of the file is alike it."""
-    check(value)
-    # The rows that the value lacks are put into a copy.
-    numbers = {row: number for row, number in nest.web.numbers.items()}
-    target = add_value(numbers, value)
-    return target if target < len(nest.web.rows) else None
+def row_of(nest, value):
+    """Return the number of the row of a value, or None if it is surely no part of that of the nest."""
+    value_depth, many = measured(value)
+    if value_depth > depth(nest) or many > parts(nest):
+        return None
+    target = add_value(Table(nest.web.numbers), value)
+    return target if target <= nest.top_row else None
 
 
 def times(nest, value):
     """Return at how many places a part stands that is alike a value."""
-    target = _row_of(nest, value)
+    target = row_of(nest, value)
     if target is None:
         return 0
     # Each row stands behind those that it links to, so all places of a part
     # are counted when its own items and members are met.
-    ways = [0] * len(nest.web.rows)
+    ways = [0] * (nest.top_row + 1)
     ways[nest.top_row] = 1
     for number in reversed(range(target + 1, nest.top_row + 1)):
         if ways[number] > 0:
@@ -46,19 +47,22 @@ def times(nest, value):
     return ways[target]
 
 
-def _holders(rows, target):
-    """Tell for each row whether the part with this row is or holds the one with the target's."""
-    holds = []
-    for number, row in enumerate(rows):
-        holds.append(number == target or any([holds[link] for link in part_links(row)]))
+def _holders(nest, target):
+    """Tell for each row up to the top one whether the part with this row is or holds the one with the target's."""
+    holds = [False] * (nest.top_row + 1)
+    holds[target] = True
+    for number in range(target + 1, nest.top_row + 1):
+        holds[number] = any([holds[link] for link in part_links(nest.web.rows[number])])
     return holds
 
 
 def where(nest, value):
     """Return the first path that leads to a part that is alike a value, or None."""
-    target = _row_of(nest, value)
+    target = row_of(nest, value)
+    if target is None:
+        return None
     rows = nest.web.rows
-    holds = _holders(rows, target)
+    holds = _holders(nest, target)
     number = nest.top_row
     if not holds[number]:
         return None
@@ -73,7 +77,7 @@ def where(nest, value):
 
 def _are_parts(nest):
     """Tell for each row whether it is that of a part of the value; a key alone is no part."""
-    met = [False] * len(nest.web.rows)
+    met = [False] * (nest.top_row + 1)
     met[nest.top_row] = True
     for number in reversed(range(nest.top_row + 1)):
         if met[number]:
@@ -82,34 +86,31 @@ def _are_parts(nest):
     return met
 
 
-def _images(nest, other):
-    """List for each row of the other nest its number in the nest, or None if it has none there."""
-    images = []
-    for kind, worth, links in other.web.rows:
-        row = (kind, worth, tuple([images[link] for link in links]))
-        images.append(nest.web.numbers.get(row))
-    return images
-
-
 def common(nest, other):
     """Return how many different parts, not keys, occur in both values."""
     here = _are_parts(nest)
     there = _are_parts(other)
-    pairs = [(image, number) for number, image in enumerate(_images(nest, other)) if image is not None]
-    return len([image for image, number in pairs if here[image] and there[number]])
+    images = images_of(nest.web.numbers, other.web.rows[:len(there)])
+    pairs = [(image, number) for number, image in enumerate(images) if image is not None and there[number]]
+    return len([image for image, _ in pairs if image < len(here) and here[image]])
 
 
-def _last_begin(begins, place):
-    """Return where in the ascending list the last number stands that is not greater than the place."""
+def _first_reaching(sums, place):
+    """Return where in the ascending list the first number stands that is not less than the place; there is one."""
     low = 0
-    high = len(begins)
-    while high - low > 1:
+    high = len(sums) - 1
+    while low < high:
         middle = (low + high) // 2
-        if begins[middle] > place:
-            high = middle
+        if sums[middle] < place:
+            low = middle + 1
         else:
-            low = middle
+            high = middle
     return low
+
+
+def _before(sums, at):
+    """Return how many parts come before the item or member at a place; `sums` are those of all that hold it."""
+    return 1 + sums[at - 1] if at > 0 else 1
 
 
 def path_at(nest, place):
@@ -121,9 +122,10 @@ def path_at(nest, place):
     path = []
     while place > 0:
         row = web.rows[number]
-        at = _last_begin(web.begins[number], place)
+        sums = sums_of(web, number)
+        at = _first_reaching(sums, place)
         path.append(step_at(web.rows, row, at))
-        place = place - web.begins[number][at]
+        place = place - _before(sums, at)
         number = part_links(row)[at]
     return tuple(path)
 
@@ -138,13 +140,13 @@ def place_of(nest, path):
     for step in path:
         row = web.rows[number]
         at = place_among(web.rows, row, step)
-        place = place + web.begins[number][at]
+        place = place + _before(sums_of(web, number), at)
         number = part_links(row)[at]
     return place
 
 
 def _differ(one, other, images):
-    """Tell whether two rows are those of parts that differ in themselves; `images` lists what `_images` returns."""
+    """Tell whether two rows are those of parts that differ in themselves; `images` lists what `images_of` returns."""
     kind, worth, links = one
     other_kind, other_worth, other_links = other
     if kind != other_kind or worth != other_worth or len(links) != len(other_links):
@@ -154,7 +156,7 @@ def _differ(one, other, images):
 
 def parting(nest, other):
     """Return the first path at which parts stand that are different in themselves, or None."""
-    images = _images(nest, other)
+    images = images_of(nest.web.numbers, other.web.rows[:other.top_row + 1])
     number = nest.top_row
     other_number = other.top_row
     if images[other_number] == number:

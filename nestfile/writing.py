@@ -3,7 +3,7 @@
 from nestfile.errors import Large
 from nestfile.layout import HEADER, MOST_OBJECTS, Layout
 from nestfile.packing import head, packed
-from nestfile.rows import add_value, shape_of
+from nestfile.rows import Table, add_value, shape_of
 from nestfile.shapes import reached
 from nestfile.values import check
 
@@ -25,55 +25,58 @@ class Account:
                 and self.references == other.references and self.table == other.table)
 
 
+def written(rows, top):
+    """Return the shortest file of the part with the top one of these rows."""
+    shape = shape_of(rows, top)
+    if len(shape) > MOST_OBJECTS:
+        raise Large("objects")
+    return packed(shape)
+
+
 def write(value):
     """Return the shortest file of a value."""
     check(value)
-    numbers = {}
-    top = add_value(numbers, value)
-    if len(numbers) > MOST_OBJECTS:
-        raise Large("objects")
-    return packed(shape_of(list(numbers), top))
+    table = Table({})
+    top = add_value(table, value)
+    return written(table.listed(), top)
 
 
 def shrink(nest):
     """Return the shortest file of the value of a nest."""
-    return packed(nest.shape)
+    return written(nest.web.rows, nest.top_row)
 
 
 def _divided(nest):
     """Divide the objects: list the unused ones, those alike a used one before them, and all others."""
-    met = reached(nest.nodes, nest.layout.root)
+    met = reached(nest.objects.references, nest.layout.root)
     seen = [False] * len(nest.web.rows)
     spare = []
     repeated = []
     kept = []
-    for number, node in enumerate(nest.nodes):
-        owner = nest.web.owners[number]
+    for number, owner in enumerate(nest.web.owners):
         if not met[number]:
-            spare.append(node)
+            spare.append(number)
         elif seen[owner]:
-            repeated.append(node)
+            repeated.append(number)
         else:
             seen[owner] = True
-            kept.append(node)
+            kept.append(number)
     return spare, repeated, kept
-
-
-def _length(nodes):
-    return sum([node.length for node in nodes])
 
 
 def account(nest):
     """Tell where the bytes go that `shrink` saves."""
     layout = nest.layout
-    shrunk = Layout(shrink(nest))
+    shape = shape_of(nest.web.rows, nest.top_row)
+    shrunk = Layout(packed(shape))
     spare, repeated, kept = _divided(nest)
-    links = sum([len(node.references) for node in kept])
-    heads = sum([len(head(row)) for row in nest.shape])
+    lengths = [end - place for place, end in zip(nest.objects.places, nest.objects.ends)]
+    links = sum([len(nest.objects.references[number]) for number in kept])
+    heads = sum([len(head(row)) for row in shape])
     return Account(
-        gaps=layout.table - len(HEADER) - _length(nest.nodes),
-        unused=_length(spare),
-        twice=_length(repeated),
-        wide=_length(kept) - heads - links * layout.reference_width,
+        gaps=layout.table - len(HEADER) - sum(lengths),
+        unused=sum([lengths[number] for number in spare]),
+        twice=sum([lengths[number] for number in repeated]),
+        wide=sum([lengths[number] for number in kept]) - heads - links * layout.reference_width,
         references=links * (layout.reference_width - shrunk.reference_width),
         table=layout.count * layout.offset_width - shrunk.count * shrunk.offset_width)

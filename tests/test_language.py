@@ -12,8 +12,9 @@ BUILTINS = {
     "tuple", "dict", "set", "isinstance", "ord", "repr", "any", "all", "divmod", "iter", "next", "ValueError",
     "KeyError", "NotImplemented", "True", "False", "None"}
 METHODS = {"__init__", "__eq__", "__len__", "__contains__"}
-CALLED = {"append", "extend", "get", "index", "items", "join", "pop", "setdefault", "values", "bit_length", "isascii",
-          "isprintable", "translate"}
+CALLED = {"append", "extend", "get", "index", "items", "join", "pop", "replace", "setdefault", "split", "values",
+          "bit_length", "isascii", "isprintable", "translate"}
+LIBRARY = {"itertools": {"accumulate"}}
 WORDS = r"\b(type|typing|enum|Enum|Flag|Generic|Protocol|ABC|namedtuple|NamedTuple)\b|dataclass|overload|contextmanager"
 
 
@@ -29,6 +30,11 @@ def nodes(kind):
     return [(path, node) for path, tree in trees() for node in ast.walk(tree) if isinstance(node, kind)]
 
 
+def own_methods():
+    """The names of all methods of the package."""
+    return {one.name for _, node in nodes(ast.ClassDef) for one in node.body if isinstance(one, ast.FunctionDef)}
+
+
 def bound(tree):
     """All names that a file binds."""
     names = {node.id for node in ast.walk(tree) if isinstance(node, ast.Name) and not isinstance(node.ctx, ast.Load)}
@@ -37,7 +43,7 @@ def bound(tree):
             names.add(node.name)
         if isinstance(node, ast.arg):
             names.add(node.arg)
-        if isinstance(node, ast.alias):
+        if isinstance(node, (ast.alias, ast.ExceptHandler)):
             names.add(node.name)
     return names
 
@@ -61,15 +67,19 @@ class TestLanguage(unittest.TestCase):
     def test_imports(self):
         for path, node in nodes((ast.Import, ast.ImportFrom)):
             self.assertIsInstance(node, ast.ImportFrom, path)
-            self.assertRegex(node.module, r"^nestfile\.[a-z]+$")
             self.assertEqual([one.asname for one in node.names], [None] * len(node.names))
+            if node.module in LIBRARY:
+                self.assertLessEqual({one.name for one in node.names}, LIBRARY[node.module])
+                continue
+            self.assertRegex(node.module, r"^nestfile\.[a-z]+$")
             defined = bound(ast.parse((PACKAGE / (node.module.split(".")[1] + ".py")).read_text()))
             self.assertLessEqual({one.name for one in node.names}, defined)
 
     def test_no_two_files_import_from_each_other(self):
         links = {path.stem: set() for path, _ in sources()}
         for path, node in nodes(ast.ImportFrom):
-            links[path.stem].add(node.module.split(".")[1])
+            if node.module not in LIBRARY:
+                links[path.stem].add(node.module.split(".")[1])
         while links:
             free = [name for name, needed in links.items() if not needed & set(links)]
             self.assertTrue(free, links)
@@ -86,7 +96,7 @@ class TestLanguage(unittest.TestCase):
                     self.assertIn(node.id, names | BUILTINS, path)
 
     def test_statements_and_expressions(self):
-        banned = (ast.AsyncFunctionDef, ast.Global, ast.Try, ast.With, ast.GeneratorExp, ast.Yield, ast.YieldFrom,
+        banned = (ast.AsyncFunctionDef, ast.Global, ast.With, ast.GeneratorExp, ast.Yield, ast.YieldFrom,
                   ast.Div, ast.AnnAssign, ast.JoinedStr, ast.Starred, ast.Match)
         self.assertEqual(nodes(banned), [])
         for path, node in nodes(ast.Constant):
@@ -102,10 +112,17 @@ class TestLanguage(unittest.TestCase):
             if isinstance(node.op, ast.Pow):
                 self.assertIsInstance(node.right, ast.Constant, path)
 
-    def test_methods_of_builtin_values(self):
+    def test_errors_are_caught_by_their_own_names(self):
+        for path, node in nodes(ast.Try):
+            self.assertEqual((node.orelse, node.finalbody), ([], []), path)
+            for handler in node.handlers:
+                self.assertIn(handler.type.id, {"NestError"}, path)
+
+    def test_methods_that_are_called(self):
+        known = CALLED | own_methods()
         for path, node in nodes(ast.Call):
             if isinstance(node.func, ast.Attribute):
-                self.assertIn(node.func.attr, CALLED, path)
+                self.assertIn(node.func.attr, known, path)
                 self.assertEqual(node.keywords, [], path)
 
     def test_local_names_are_not_those_of_classes_and_imports(self):
@@ -125,8 +142,10 @@ class TestLanguage(unittest.TestCase):
 
     def test_each_attribute_is_assigned_by_a_class(self):
         assigned = {node.attr for _, node in nodes(ast.Attribute) if isinstance(node.ctx, ast.Store)}
+        methods = own_methods()
+        self.assertFalse(assigned & methods)
         for path, node in nodes(ast.Attribute):
-            self.assertIn(node.attr, assigned | CALLED, path)
+            self.assertIn(node.attr, assigned | CALLED | methods, path)
 
     def test_words_that_do_not_occur(self):
         for path, tree in trees():

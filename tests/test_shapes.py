@@ -2,6 +2,7 @@ import unittest
 
 from making import FALSE, NONE, TRUE, array, built, data, dictionary, integer, text, uid, wide
 from nestfile.files import read
+from nestfile.rows import shape_of
 
 SEVEN = ("integer", 7, ())
 
@@ -10,7 +11,8 @@ class TestShapes(unittest.TestCase):
     """The shape that nests are compared by has the order of the shortest file, promise [13]."""
 
     def shape(self, objects, top=None):
-        return read(built(objects, top)).shape
+        nest = read(built(objects, top))
+        return shape_of(nest.web.rows, nest.top_row)
 
     def test_leaves(self):
         for one, row in ((NONE, ("none", None)), (TRUE, ("truth", True)), (FALSE, ("truth", False)),
