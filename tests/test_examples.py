@@ -1,14 +1,18 @@
-"""The examples of the document that need no later module."""
+"""The examples of the document, and its interface."""
 
 import importlib
 import inspect
 import unittest
 
 from making import array, built, doubling, integer
-from nestfile.errors import Large, NestError, NoPart, NoPlace, NoValue, Torn
+from nestfile.desk import Desk
+from nestfile.edits import inserted, joined, patched, removed, replaced, swapped
+from nestfile.errors import BadText, Large, NestError, NoFile, NoFit, NoPart, NoPlace, NoValue, Torn
 from nestfile.files import entries, find, read, top
+from nestfile.nesttexts import hex_text, path_text, read_hex, read_path, read_value, value_text
 from nestfile.paths import part, steps
-from nestfile.values import Wide, alike, check
+from nestfile.shelf import Shelf
+from nestfile.values import Data, Wide, alike, check
 from nestfile.webs import common, depth, different, parting, parts, path_at, place_of, times, where
 from nestfile.writing import account, write
 
@@ -41,7 +45,21 @@ INTERFACE = [
     ("writing", "Account", ["gaps", "unused", "twice", "wide", "references", "table"], ["__eq__"]),
     ("paths", "part", ["nest", "path", "most"], []), ("paths", "steps", ["nest", "path"], []),
     ("paths", "inner", ["nest", "path"], []),
+    ("edits", "replaced", ["nest", "path", "value"], []), ("edits", "removed", ["nest", "path"], []),
+    ("edits", "inserted", ["nest", "path", "value"], []), ("edits", "swapped", ["nest", "old", "new"], []),
+    ("edits", "joined", ["nests"], []), ("edits", "patched", ["nest", "number", "value"], []),
+    ("shelf", "Shelf", [], ["keep", "drop", "nest", "names", "replace", "remove", "insert", "claim", "claims", "many",
+                            "back"]),
+    ("nesttexts", "value_text", ["value"], []), ("nesttexts", "read_value", ["text"], []),
+    ("nesttexts", "hex_text", ["data"], []), ("nesttexts", "read_hex", ["text"], []),
+    ("nesttexts", "path_text", ["path"], []), ("nesttexts", "read_path", ["text"], []),
+    ("desk", "Desk", [], ["tell"]),
 ]
+METHODS = {
+    "keep": ["name", "data"], "drop": ["name"], "nest": ["name"], "names": [], "replace": ["name", "path", "value"],
+    "remove": ["name", "path"], "insert": ["name", "path", "value"], "claim": ["name", "other"], "claims": [], "many": [],
+    "back": [], "tell": ["row"], "told": [],
+}
 
 
 class TestExamples(unittest.TestCase):
@@ -57,7 +75,7 @@ class TestExamples(unittest.TestCase):
         self.assertEqual((alike(True, 1), alike({"a": 1, "b": 2}, {"b": 2, "a": 1})), (False, True))
 
     def test_written_files(self):
-        self.assertEqual(bytes(write(5)).hex(),
+        self.assertEqual(hex_text(write(5)),
                          "62706c6973743030100508000000000000010100000000000000010000000000000000000000000000000a")
         self.assertEqual(len(write([7, 7])), 47)
         self.assertEqual((write(5), write([7]), write([7, 7])), (FIVE, LIST, PAIR))
@@ -79,14 +97,16 @@ class TestExamples(unittest.TestCase):
         self.raises(NoPart, {"length": 0}, find, read(LIST), (1,))
 
     def test_account(self):
-        nest = read(list(bytes.fromhex(
-            "62706c697374303011000508000000000000010100000000000000010000000000000000000000000000000b")))
+        nest = read(read_hex("62706c697374303011000508000000000000010100000000000000010000000000000000000000000000000b"))
         self.assertEqual((account(nest).wide, account(nest).table), (1, 0))
 
     def test_webs(self):
-        # The example joins nests; here the same lists are put together by hand.
-        nest = read(doubling(4, integer(0)))
+        nest = read(write(0))
+        nest = read(joined([nest, nest]))
+        nest = read(joined([nest, nest]))
+        nest = read(joined([nest, nest]))
         self.assertEqual((parts(nest), depth(nest), different(nest)), (15, 3, 4))
+        self.assertEqual(nest, read(doubling(4, integer(0))))
         nest = read(write([[5], {"a": 5}]))
         self.assertEqual((times(nest, 5), where(nest, 5), where(nest, True)), (2, (0, 0), None))
         self.assertEqual((path_at(nest, 4), place_of(nest, (1,))), ((1, "a"), 3))
@@ -99,6 +119,35 @@ class TestExamples(unittest.TestCase):
         self.assertEqual((part(nest, ("a",)), steps(nest, ())), ([True], ["a", "b"]))
         self.raises(Large, {"what": "depth"}, part, read(doubling(102)), ())
 
+    def test_edits(self):
+        nest = read(write([7, 7]))
+        self.assertEqual((part(read(replaced(nest, (0,), 8)), ()), part(read(inserted(nest, (2,), 9)), ())),
+                         ([8, 7], [7, 7, 9]))
+        self.assertEqual(part(read(swapped(read(write([7, [7]])), 7, "x")), ()), ["x", ["x"]])
+        self.raises(NoPart, {"length": 0}, removed, read(write([7])), ())
+        self.assertEqual(part(read(patched(read(write([7, 7])), 0, 9)), ()), [9, 9])
+        self.raises(NoFit, {"length": 3}, patched, read(write([7, 7])), 0, 300)
+
+    def test_shelf(self):
+        shelf = Shelf()
+        shelf.keep("a", write([1, 2]))
+        shelf.keep("b", write([1]))
+        shelf.remove("a", (1,))
+        self.assertEqual((shelf.claim("a", "b"), shelf.claims(), shelf.many()), (True, [("a", "b", True)], 4))
+        self.raises(NoFile, {"name": "a"}, Shelf().nest, "a")
+
+    def test_texts(self):
+        self.assertEqual(value_text([None, {"a": -5}, Data([255])]), '[null,{"a":-5},dff]')
+        self.raises(BadText, {"place": 4}, read_value, "[1,02]")
+        self.assertEqual((path_text((0, "a b")), read_path(".")), ('0/"a b"', ()))
+
+    def test_desk(self):
+        desk = Desk()
+        desk.tell("write a [7,7]")
+        desk.tell("replace a 0 8")
+        self.assertEqual(desk.tell("part a ."), ["[8,7]"])
+        self.assertEqual(Desk().tell("drop a"), ["refused nofile"])
+
 
 class TestInterface(unittest.TestCase):
     def test_names_and_parameters(self):
@@ -110,6 +159,9 @@ class TestInterface(unittest.TestCase):
                     self.assertEqual(list(inspect.signature(thing).parameters), parameters)
                 for method in methods:
                     self.assertIn(method, vars(thing))
+                    if method in METHODS:
+                        names = list(inspect.signature(vars(thing)[method]).parameters)
+                        self.assertEqual(names, ["self"] + METHODS[method])
 
     def test_what_is_named_and_what_has_a_default(self):
         most = inspect.signature(part).parameters["most"]

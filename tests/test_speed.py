@@ -4,14 +4,19 @@ import time
 import unittest
 
 from making import NONE, TRUE, array, built, chain, data, dictionary, doubling, framed, integer, number, text
-from nestfile.errors import Torn
+from nestfile.desk import Desk
+from nestfile.edits import inserted, joined, patched, removed, replaced, swapped
+from nestfile.errors import BadText, Large, Torn
 from nestfile.files import entries, find, gaps, octets, read, unused
+from nestfile.nesttexts import hex_text, path_text, read_hex, read_path, read_value, value_text
 from nestfile.paths import inner, part, steps
+from nestfile.shelf import Shelf
 from nestfile.values import Data, Wide, check
 from nestfile.webs import common, depth, different, parting, parts, path_at, place_of, times, where
 from nestfile.writing import account, shrink, write
 
-SECONDS = 5
+# Far more than each test takes, so that a slow machine does not matter, and far less than what grows too fast.
+SECONDS = 15
 
 
 class TestSpeed(unittest.TestCase):
@@ -36,7 +41,29 @@ class TestSpeed(unittest.TestCase):
         unused(nest)
         gaps(nest)
         self.asked(nest, read(file))
+        self.edited(nest)
         return nest
+
+    def edited(self, nest):
+        """Edit at the first, a middle and the last part; files of more than 10,000 objects are refused."""
+        for place in (0, parts(nest) // 3, parts(nest) - 1):
+            path = path_at(nest, place)
+            try:
+                changed = read(replaced(nest, path, ["new", None]))
+                self.assertEqual(part(changed, path), ["new", None])
+                self.assertEqual(path == (), shrink(changed) == write(["new", None]))
+                if path:
+                    self.assertEqual(parts(read(removed(nest, path))), parts(nest) - parts(inner(nest, path)))
+                if isinstance((steps(nest, path) or [""])[0], int):
+                    self.assertEqual(parts(read(inserted(nest, path + (0,), 5))), parts(nest) + 1)
+                for old in (None, True, 7, "x", []):
+                    self.assertEqual(times(read(swapped(nest, old, [["new"]])), "new"), times(nest, old))
+                self.assertEqual(parts(read(joined([nest] * 100))), 1 + 100 * parts(nest))
+            except Large as large:
+                self.assertEqual(large.what, "objects")
+        for number_, entry in enumerate(entries(nest)[:3]):
+            if entry.kind == "none":
+                self.assertEqual(len(patched(nest, number_, True)), len(octets(nest)))
 
     def asked(self, nest, same):
         """Ask all that can be asked of a nest, and see that the answers fit together."""
@@ -149,6 +176,48 @@ class TestSpeed(unittest.TestCase):
         nest = read(write([0] * 19_999))
         for place in range(0, 20_000, 3):
             self.assertEqual(place_of(nest, path_at(nest, place)), place)
+
+    def test_joining_a_hundred_nests(self):
+        # Thousands of objects each, all alike, and all different.
+        first = read(write([0] + list(range(200, 9_000))))
+        nests = [first] + [read(replaced(first, (0,), at)) for at in range(1, 20)]
+        self.assertEqual(len(read(joined(nests * 5))), 8_841)
+        nests = [read(write([[at, k] for k in range(150)])) for at in range(100)]
+        with self.assertRaises(Large):
+            joined(nests)
+
+    def test_texts(self):
+        data = [k & 255 for k in range(50_000)]
+        for _ in range(20):
+            self.assertEqual(read_hex(hex_text(data)), data)
+        for text in ("[" * 2_000 + "]" * 2_000, '{"a":' * 600, '"' + "\\" * 1_999 + '"', "d" + "0" * 3_998,
+                     "[" + ",".join(["0"] * 1_999) + "]", "w" + "00e9" * 999,
+                     "{" + ",".join([f'"{at}":{at}' for at in range(300)]) + "}"):
+            for _ in range(20):
+                try:
+                    value = read_value(text)
+                    self.assertEqual(len(value_text(value)), len(text))
+                except (BadText, Large):
+                    pass
+        path = (0, "a") * 1_000
+        self.assertEqual(read_path(path_text(path)), path)
+        self.assertEqual(len(value_text([["x" * 100] * 100] * 100)), 1_030_201)
+
+    def test_many_changes_of_a_shelf(self):
+        shelf = Shelf()
+        shelf.keep("a", write([0]))
+        for at in range(1_000):
+            shelf.replace("a", (0,), at + 1)
+            shelf.claim("a", "a")
+        self.assertEqual(shelf.many(), 2_001)
+        for _ in range(2_000):
+            shelf.back()
+        self.assertEqual(part(shelf.nest("a"), ()), [0])
+        desk = Desk()
+        desk.tell("keep a " + hex_text(doubling(6_900)))
+        for row in ("parts a", "depth a", "different a", "same a a", "claim a a", "replace a 0/1 5", "insert a 0 5", "back",
+                    "remove a 1", "find a 0/1", "hex a"):
+            self.assertFalse(desk.tell(row)[0].startswith("refused"), row)
 
     def test_values(self):
         deep = 0
