@@ -46,8 +46,10 @@ def _are_equal(nest, other):
     # Most that are unequal have another number of parts, which takes no time to see.
     if nest.web.counts[nest.top_row] != other.web.counts[other.top_row]:
         return False
-    images = images_of(nest.web.numbers, other.web.rows[:other.top_row + 1])
-    return images[other.top_row] == nest.top_row
+    rows = other.web.rows[:other.top_row + 1]
+    if rows == nest.web.rows[:nest.top_row + 1]:
+        return True
+    return images_of(nest.web.numbers, rows)[other.top_row] == nest.top_row
 
 
 def _follow(objects, number, step):

@@ -52,6 +52,8 @@ def numbers_octets(numbers, width):
     """Write numbers from 0 on side by side, each in so many bytes."""
     if width == 1:
         return list(numbers)
+    if width == 2:
+        return [octet for number in numbers for octet in (number >> 8, number & GREATEST_BYTE)]
     shifts = [8 * at for at in reversed(range(width))]
     return [(number >> shift) & GREATEST_BYTE for number in numbers for shift in shifts]
 

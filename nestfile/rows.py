@@ -103,7 +103,7 @@ class Level:
     """All parts of one depth in the order of paths; `orders` lists the ascending keys of each dictionary of them."""
 
     def __init__(self, parts):
-        self.parts = parts
+        self.parts = tuple(parts)
         self.orders = [sorted(part) for part in parts if isinstance(part, dict)]
 
     def opened(self):
@@ -194,11 +194,6 @@ def images_of(numbers, rows):
     return images
 
 
-def _renumbered(row, numbers):
-    kind, worth, links = row
-    return kind, worth, tuple([numbers[link] for link in links])
-
-
 def shape_of(rows, top):
     """List the rows of a value in the order of its shortest file, with links that fit.
 
@@ -213,5 +208,8 @@ def shape_of(rows, top):
             # The top one is met first; nothing refers to it, so its number is never read.
             numbers[at] = len(numbers) - 1
             waiting.extend(rows[at][2][::-1])
-    met = [at for at in numbers if at != top] + [top]
-    return tuple([_renumbered(rows[at], numbers) if rows[at][2] else rows[at] for at in met])
+    shape = []
+    for at in [at for at in numbers if at != top] + [top]:
+        kind, worth, links = rows[at]
+        shape.append((kind, worth, tuple([numbers[link] for link in links])) if links else rows[at])
+    return tuple(shape)

@@ -112,8 +112,9 @@ class Web:
     leads from each row to its number, and `owners` tells for each object the
     number of its row. The first rows, up to `first`, are those that the top
     object of the file as it was read leads to. For the part with each row,
-    `depths` and `counts` tell its depth and its number of parts; `sums` leads
-    from the numbers of the wide ones to what `sums_of` returns.
+    `depths` and `counts` tell its depth and its number of parts; for the wide
+    ones `sums` tells how many of these the first item or member has, the first
+    two, and so on.
     """
 
     def __init__(self, objects, root):
@@ -148,13 +149,6 @@ def _wide_sums(rows, counts):
         if len(row[2]) >= WIDE:
             found[number] = tuple(accumulate([counts[link] for link in part_links(row)]))
     return found
-
-
-def sums_of(web, number):
-    """List how many parts the first item or member of a part with this row has, its first two, and so on."""
-    if number in web.sums:
-        return web.sums[number]
-    return list(accumulate([web.counts[link] for link in part_links(web.rows[number])]))
 
 
 def used_rows(web, top):

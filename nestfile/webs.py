@@ -3,7 +3,7 @@
 from nestfile.errors import NoPlace
 from nestfile.files import find
 from nestfile.rows import Table, add_value, images_of, key_links, part_links, place_among, step_at
-from nestfile.shapes import sums_of, used_rows
+from nestfile.shapes import used_rows
 from nestfile.values import is_between, measured
 
 
@@ -95,22 +95,42 @@ def common(nest, other):
     return len([image for image, _ in pairs if image < len(here) and here[image]])
 
 
-def _first_reaching(sums, place):
-    """Return where in the ascending list the first number stands that is not less than the place; there is one."""
+def _first_above(sums, place):
+    """Return where in the ascending list the first number stands that is greater than the place; there is one."""
     low = 0
     high = len(sums) - 1
     while low < high:
         middle = (low + high) // 2
-        if sums[middle] < place:
-            low = middle + 1
-        else:
+        if sums[middle] > place:
             high = middle
+        else:
+            low = middle + 1
     return low
 
 
-def _before(sums, at):
-    """Return how many parts come before the item or member at a place; `sums` are those of all that hold it."""
-    return 1 + sums[at - 1] if at > 0 else 1
+def _before(web, number, at):
+    """Return how many parts of the items and members of a row stand before the one at a place."""
+    if at == 0:
+        return 0
+    if number in web.sums:
+        return web.sums[number][at - 1]
+    return sum([web.counts[link] for link in part_links(web.rows[number])[:at]])
+
+
+def _entered(web, number, place):
+    """Return where the item or member of a row stands that holds a part, and the place of the part in it.
+
+    The place that is handed in is counted from the first part of the first one.
+    """
+    if number in web.sums:
+        at = _first_above(web.sums[number], place)
+        return at, place - _before(web, number, at)
+    links = part_links(web.rows[number])
+    at = 0
+    while place >= web.counts[links[at]]:
+        place = place - web.counts[links[at]]
+        at += 1
+    return at, place
 
 
 def path_at(nest, place):
@@ -121,11 +141,10 @@ def path_at(nest, place):
     number = nest.top_row
     path = []
     while place > 0:
+        # The first place is that of the part itself.
+        at, place = _entered(web, number, place - 1)
         row = web.rows[number]
-        sums = sums_of(web, number)
-        at = _first_reaching(sums, place)
         path.append(step_at(web.rows, row, at))
-        place = place - _before(sums, at)
         number = part_links(row)[at]
     return tuple(path)
 
@@ -136,11 +155,12 @@ def place_of(nest, path):
     find(nest, path)
     web = nest.web
     number = nest.top_row
-    place = 0
+    # Each step also goes behind the part that it leaves.
+    place = len(path)
     for step in path:
         row = web.rows[number]
         at = place_among(web.rows, row, step)
-        place = place + _before(sums_of(web, number), at)
+        place = place + _before(web, number, at)
         number = part_links(row)[at]
     return place
 
