@@ -130,14 +130,10 @@ def _levels(value):
     return levels
 
 
-def _plain_numbers(table, parts):
-    """Return a dict from each string and integer among these parts to the number of its row, and how many they are."""
-    plain = [part for part in parts if isinstance(part, (int, str)) and part is not True and part is not False]
-    numbers = {}
-    for part in {part: True for part in plain}:
-        kind = "string" if isinstance(part, str) else "integer"
-        numbers[part] = table.number_of((kind, part, ()))
-    return numbers, len(plain)
+def _numbers_by_part(table, parts):
+    """Return a dict from each of these parts to the number of its row."""
+    # Thousands of parts are the same few strings and numbers: each is put in once.
+    return {part: table.number_of(leaf_row(part)) for part in {part: True for part in parts}}
 
 
 def _dictionary_number(table, keys, links):
@@ -147,26 +143,30 @@ def _dictionary_number(table, keys, links):
 
 def _level_numbers(table, level, below):
     """List the numbers of the rows of a level; `below` are those of all that stands in its parts."""
-    # Thousands of parts are strings and integers that occur again and again: each is put in once.
-    plain, many = _plain_numbers(table, level.parts)
-    if many == len(level.parts):
-        return [plain[part] for part in level.parts]
+    # To Python True is the key 1, so what stands for itself alone has a dict of its own.
+    signs = _numbers_by_part(table, [part for part in level.parts if part is None or part is True or part is False])
+    plain = [part for part in level.parts if isinstance(part, (int, str)) and part is not True and part is not False]
+    plain_numbers = _numbers_by_part(table, plain)
+    if len(plain) == len(level.parts):
+        return [plain_numbers[part] for part in plain]
     numbers = []
     orders = 0
     begin = 0
     for part in level.parts:
         end = begin
-        if isinstance(part, list):
+        if part is None or part is True or part is False:
+            number = signs[part]
+        elif isinstance(part, (int, str)):
+            number = plain_numbers[part]
+        elif isinstance(part, list):
             end += len(part)
             number = table.number_of(("list", None, tuple(below[begin:end])))
         elif isinstance(part, dict):
             end += len(part)
             number = _dictionary_number(table, level.orders[orders], below[begin:end])
             orders += 1
-        elif part is True or part is False or not isinstance(part, (int, str)):
-            number = _leaf_number(table, part)
         else:
-            number = plain[part]
+            number = _leaf_number(table, part)
         begin = end
         numbers.append(number)
     return numbers
