@@ -316,6 +316,10 @@ class TestJoined(TestEdits):
         self.assertEqual(len(read(joined([read(write(list(range(9_998))))] * 100))), 10_000)
         # What no reference leads to does not count.
         self.assertEqual(len(read(joined([inner(whole, (5,)), inner(whole, (6,))]))), 3)
+        mixed = read(write([list(range(9_900)), [1, "x"]]))
+        others = read(write([[str(k) for k in range(200)]]))
+        self.assertEqual(len(read(joined([inner(mixed, (1,)), others]))), 1 + 3 + 202)
+        self.assertEqual(different(inner(mixed, (1,))), 3)
 
 
 class TestPatched(TestEdits):

@@ -137,6 +137,9 @@ class TestFuzzValues(unittest.TestCase):
                 found = inner(nest, path)
                 self.assertEqual(shrink(found), write(one))
                 self.assertEqual(find(found, ()), find(nest, path))
+                self.assertEqual((parts(found), depth(found), different(found)),
+                                 (len(list(slow.walk(one))), slow.depth(one), slow.different(one)))
+                self.assertEqual(common(found, nest), slow.common(one, value))
                 for step in (-1, 17, True, "z"):
                     for function in (part, steps, inner, place_of):
                         with self.assertRaises(NoPart) as caught:
